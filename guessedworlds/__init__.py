@@ -1,0 +1,1 @@
+"""Guessedworlds: one world played from afar, shown by guesses, settled to the bit."""

@@ -1,0 +1,103 @@
+"""The interface of the document, and the form of the package's files."""
+
+import ast
+import builtins
+import inspect
+import pathlib
+import unittest
+
+from guessedworlds import errors, games, grounds, numbers, programs
+
+FOLDER = pathlib.Path(errors.__file__).parent
+FILES = sorted(FOLDER.rglob("*.py"))
+TREES = {path.name: ast.parse(path.read_text("utf-8")) for path in FILES}
+INTERFACE = {
+    numbers: {
+        "wrapped": ["number"], "next_seed": ["seed"], "seed_after": ["seed", "many"], "drawn": ["seed", "below"],
+    },
+    grounds: {
+        "Ground": ["rows"], "sign_at": ["ground", "x", "y"], "is_open": ["ground", "x", "y", "wide", "high"],
+    },
+    programs: {"Program": ["handlers"]},
+    games: {
+        "Kind": ["wide", "high", "solid", "pull", "program"], "Game": ["players", "ground", "kinds", "births"],
+    },
+}
+ALLOWED_BUILTINS = """len range enumerate zip min max sum abs sorted reversed int str bool list tuple dict set
+    isinstance ord repr any all divmod map iter next ValueError KeyError IndexError LookupError""".split()
+BARRED = (ast.Global, ast.AsyncFunctionDef, ast.Await, ast.Div, ast.MatMult, ast.Import)
+
+
+def nodes():
+    """All nodes of all files, with the names of their files."""
+    return [(name, node) for name, tree in TREES.items() for node in ast.walk(tree)]
+
+
+class Interface(unittest.TestCase):
+    def test_each_name_stands_in_its_file_with_its_arguments(self):
+        for module, names in INTERFACE.items():
+            for name, arguments in names.items():
+                thing = getattr(module, name)
+                self.assertEqual(thing.__module__, module.__name__)
+                self.assertEqual(list(inspect.signature(thing).parameters), arguments)
+
+    def test_each_class_compares_by_itself(self):
+        for kind in (grounds.Ground, programs.Program, games.Kind, games.Game):
+            self.assertIn("__eq__", vars(kind))
+
+
+class Form(unittest.TestCase):
+    def test_the_folder_holds_python_files_alone(self):
+        for path in FOLDER.rglob("*"):
+            if "__pycache__" not in path.parts:
+                self.assertTrue(path.is_dir() or path.suffix == ".py", path)
+                self.assertEqual(path.name, path.name.lower())
+        self.assertIn("__init__.py", TREES)
+
+    def test_characters_and_sizes(self):
+        for path in FILES:
+            text = path.read_text("utf-8")
+            self.assertEqual([sign for sign in text if sign != "\n" and not " " <= sign <= "~"], [], path)
+            lines = text.split("\n")
+            self.assertLessEqual(len(lines), 399, path)
+            self.assertEqual([line for line in lines if len(line) > 120], [], path)
+
+    def test_functions_are_small_and_plain(self):
+        for name, node in nodes():
+            if isinstance(node, (ast.FunctionDef, ast.ClassDef)):
+                self.assertEqual(node.decorator_list, [], (name, node.name))
+            if isinstance(node, ast.FunctionDef):
+                self.assertLessEqual(node.end_lineno - node.lineno + 1, 40, (name, node.name))
+                self.assertNotIn(node.name, vars(builtins))
+
+    def test_modules_hold_definitions_alone(self):
+        for name, tree in TREES.items():
+            for node in tree.body[1:]:
+                self.assertIsInstance(node, (ast.ImportFrom, ast.FunctionDef, ast.ClassDef, ast.Assign), name)
+                if isinstance(node, ast.Assign):
+                    ast.literal_eval(node.value)
+
+    def test_imports_are_of_the_package_and_of_the_defining_file(self):
+        for name, node in nodes():
+            if isinstance(node, ast.ImportFrom):
+                self.assertTrue(node.module.startswith("guessedworlds."), (name, node.module))
+                there = TREES[node.module.split(".")[1] + ".py"].body
+                defined = [part.name for part in there if isinstance(part, (ast.FunctionDef, ast.ClassDef))]
+                defined += [part.targets[0].id for part in there if isinstance(part, ast.Assign)]
+                for alias in node.names:
+                    self.assertIn(alias.name, defined, name)
+                    self.assertIsNone(alias.asname)
+
+    def test_nothing_that_is_barred_is_used(self):
+        for name, node in nodes():
+            self.assertNotIsInstance(node, BARRED, name)
+            if isinstance(node, ast.Constant):
+                self.assertNotIsInstance(node.value, (float, complex, bytes), name)
+            if isinstance(node, ast.Name) and node.id in vars(builtins):
+                self.assertIn(node.id, ALLOWED_BUILTINS, name)
+            if isinstance(node, ast.arg):
+                self.assertNotIn(node.arg, vars(builtins), name)
+
+
+if __name__ == "__main__":
+    unittest.main()
