@@ -2,8 +2,12 @@
 
 import unittest
 
+from guessedworlds.codes import compiled, heights
+from guessedworlds.games import Game, Kind
 from guessedworlds.grounds import Ground, is_open
+from guessedworlds.moves import room
 from guessedworlds.numbers import drawn, seed_after, wrapped
+from guessedworlds.worlds import first_world
 
 
 class Examples(unittest.TestCase):
@@ -14,6 +18,22 @@ class Examples(unittest.TestCase):
         self.assertEqual(seed_after(1, 2), 182605794)
         self.assertIs(is_open(ground, 24, 0, 8, 8), True)
         self.assertIs(is_open(ground, 25, 0, 8, 8), False)
+
+    def test_e02(self):
+        ground = Ground(("....", "####"))
+        plain = Kind(8, 8, True, 0, None)
+        game = Game(1, ground, (plain,), ((0, 0, 0, 0), (0, 20, 0, -1)))
+        self.assertEqual(room(game, first_world(game, 7), 0, "right"), (12, (1,)))
+        self.assertEqual(room(game, first_world(game, 7), 1, "right"), (4, "wall"))
+
+    def test_e03(self):
+        count = ("set", "c0", ("add", ("name", "c0"), ("number", 1)))
+        code = compiled((("while", ("less", ("name", "c0"), ("number", 3)), (count,)),))
+        self.assertEqual(code, (
+            ("spend",), ("load", "c0"), ("push", 3), ("less",), ("unless", 11), ("spend",), ("load", "c0"),
+            ("push", 1), ("add",), ("store", "c0"), ("jump", 0),
+        ))
+        self.assertEqual(heights(code), (0, 0, 1, 2, 1, 0, 0, 1, 2, 1, 0, 0))
 
 
 if __name__ == "__main__":

@@ -6,7 +6,9 @@ import inspect
 import pathlib
 import unittest
 
-from guessedworlds import errors, games, grounds, numbers, programs
+from guessedworlds import (
+    codes, errors, games, grounds, machines, moves, numbers, programs, runs, standings, worlds,
+)
 
 FOLDER = pathlib.Path(errors.__file__).parent
 FILES = sorted(FOLDER.rglob("*.py"))
@@ -22,6 +24,18 @@ INTERFACE = {
     games: {
         "Kind": ["wide", "high", "solid", "pull", "program"], "Game": ["players", "ground", "kinds", "births"],
     },
+    worlds: {
+        "World": ["tick", "seed", "shared", "count", "bodies", "said"], "is_world": ["game", "thing"],
+        "first_world": ["game", "seed"],
+    },
+    # What the document calls id has another name here, as id is a builtin's: arguments are passed by position.
+    moves: {"moved": ["game", "world"], "room": ["game", "world", "body_id", "way"]},
+    standings: {
+        "Standing": ["tick", "seed", "shared", "bodies", "said", "asked", "leaving"], "standing_of": ["world"],
+    },
+    runs: {"ran": ["game", "standing", "body_id", "word", "other", "side", "inputs"]},
+    codes: {"compiled": ["body"], "heights": ["code"], "is_code": ["thing"]},
+    machines: {"ran_code": ["game", "standing", "body_id", "code", "other", "side", "inputs"]},
 }
 ALLOWED_BUILTINS = """len range enumerate zip min max sum abs sorted reversed int str bool list tuple dict set
     isinstance ord repr any all divmod map iter next ValueError KeyError IndexError LookupError""".split()
@@ -42,7 +56,9 @@ class Interface(unittest.TestCase):
                 self.assertEqual(list(inspect.signature(thing).parameters), arguments)
 
     def test_each_class_compares_by_itself(self):
-        for kind in (grounds.Ground, programs.Program, games.Kind, games.Game):
+        for kind in (
+            grounds.Ground, programs.Program, games.Kind, games.Game, worlds.World, standings.Standing,
+        ):
             self.assertIn("__eq__", vars(kind))
 
 
