@@ -54,6 +54,13 @@ def names_of(standing, body, buttons, other, side):
     return names
 
 
+def outcome_of_one(word, one):
+    """What "not" or "minus" makes of a number."""
+    if word == "not":
+        return 1 if one == 0 else 0
+    return wrapped(-one)
+
+
 def outcome_of_two(ground, word, one, other):
     """What a word of two parts makes of them."""
     if word == "add":
@@ -108,10 +115,8 @@ class Actor:
 
     def of_one(self, word, one):
         """What a word of one part makes of it."""
-        if word == "not":
-            return 1 if one == 0 else 0
-        if word == "minus":
-            return wrapped(-one)
+        if word in ("not", "minus"):
+            return outcome_of_one(word, one)
         if word == "draw":
             draw, self.seed = drawn(self.seed, one)
             return draw

@@ -5,8 +5,11 @@ import unittest
 from guessedworlds.codes import compiled, heights
 from guessedworlds.games import Game, Kind
 from guessedworlds.grounds import Ground, is_open
+from guessedworlds.marks import mark
 from guessedworlds.moves import room
 from guessedworlds.numbers import drawn, seed_after, wrapped
+from guessedworlds.rows import read_whole, signed, whole
+from guessedworlds.ticks import run_of
 from guessedworlds.worlds import first_world
 
 
@@ -34,6 +37,18 @@ class Examples(unittest.TestCase):
             ("push", 1), ("add",), ("store", "c0"), ("jump", 0),
         ))
         self.assertEqual(heights(code), (0, 0, 1, 2, 1, 0, 0, 1, 2, 1, 0, 0))
+
+    def test_e04(self):
+        heavy = Kind(4, 4, True, 2, None)
+        game = Game(1, Ground(("....", "####")), (heavy,), ((0, 8, 0, 0),))
+        world = run_of(game, first_world(game, 7), [(0,), (0,)])
+        self.assertEqual(world.bodies, ((0, 0, 8, 4, 0, 0, 0, (0, 0, 0, 0)),))
+
+    def test_e05(self):
+        self.assertEqual(whole(300), (172, 2))
+        self.assertEqual(signed(-1), (1,))
+        self.assertEqual(read_whole((172, 2, 9), 0), (300, 2))
+        self.assertEqual(mark((7,)), 1000011)
 
 
 if __name__ == "__main__":

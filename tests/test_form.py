@@ -7,7 +7,8 @@ import pathlib
 import unittest
 
 from guessedworlds import (
-    codes, errors, games, grounds, machines, moves, numbers, programs, runs, standings, worlds,
+    codes, errors, folding, games, grounds, machines, marks, moves, numbers, programs, rows, runs, standings, ticks,
+    worldrows, worlds,
 )
 
 FOLDER = pathlib.Path(errors.__file__).parent
@@ -36,6 +37,15 @@ INTERFACE = {
     runs: {"ran": ["game", "standing", "body_id", "word", "other", "side", "inputs"]},
     codes: {"compiled": ["body"], "heights": ["code"], "is_code": ["thing"]},
     machines: {"ran_code": ["game", "standing", "body_id", "code", "other", "side", "inputs"]},
+    folding: {"folded": ["code"]},
+    ticks: {
+        "ticked": ["game", "standing", "inputs"], "pulled": ["game", "standing"], "carried": ["game", "standing"],
+        "met": ["game", "standing", "walls", "touches", "inputs"], "closed": ["game", "standing", "count"],
+        "next_world": ["game", "world", "inputs"], "run_of": ["game", "world", "rows"],
+    },
+    rows: {"whole": ["number"], "signed": ["number"], "read_whole": ["row", "at"], "read_signed": ["row", "at"]},
+    worldrows: {"world_row": ["game", "world"], "read_world": ["game", "row"]},
+    marks: {"mark": ["row"], "mark_behind": ["mark", "row"]},
 }
 ALLOWED_BUILTINS = """len range enumerate zip min max sum abs sorted reversed int str bool list tuple dict set
     isinstance ord repr any all divmod map iter next ValueError KeyError IndexError LookupError""".split()

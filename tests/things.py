@@ -96,6 +96,11 @@ def is_whole(thing):
     return isinstance(thing, int) and not isinstance(thing, bool)
 
 
+def is_row(thing):
+    """Whether a thing is a row, as the document tells it."""
+    return isinstance(thing, tuple) and len(thing) <= 300000 and all([is_from(0, 255)(byte) for byte in thing])
+
+
 def is_from(least, most):
     """A judge of integers from the least to the most."""
     return lambda thing: is_whole(thing) and least <= thing <= most
