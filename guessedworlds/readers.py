@@ -11,6 +11,13 @@ class Reader:
         self.row = row
         self.at = at
 
+    def byte(self):
+        """The byte that stands here."""
+        if self.at == len(self.row):
+            raise BadRow(self.at)
+        self.at = self.at + 1
+        return self.row[self.at - 1]
+
     def whole(self):
         """The number that stands here."""
         number, self.at = whole_at(self.row, self.at)
@@ -34,6 +41,13 @@ class Reader:
         for _ in range(many):
             found.append(self.signed())
         return tuple(found)
+
+    def stretch(self, many):
+        """The tuple of so many bytes that stand here."""
+        if many > len(self.row) - self.at:
+            raise BadRow(self.at)
+        self.at = self.at + many
+        return self.row[self.at - many:self.at]
 
     def close(self):
         """Nothing more may stand here."""

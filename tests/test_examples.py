@@ -2,9 +2,11 @@
 
 import unittest
 
+from guessedworlds.books import Book, guess
 from guessedworlds.codes import compiled, heights
 from guessedworlds.games import Game, Kind
 from guessedworlds.grounds import Ground, is_open
+from guessedworlds.inputrows import input_row
 from guessedworlds.marks import mark
 from guessedworlds.moves import room
 from guessedworlds.numbers import drawn, seed_after, wrapped
@@ -49,6 +51,21 @@ class Examples(unittest.TestCase):
         self.assertEqual(signed(-1), (1,))
         self.assertEqual(read_whole((172, 2, 9), 0), (300, 2))
         self.assertEqual(mark((7,)), 1000011)
+
+    def test_e06(self):
+        self.assertEqual(input_row((1, 1, 0)), (2, 1, 2, 0, 1))
+        self.assertEqual(guess(5, 3, 2), 0)
+        self.assertEqual(guess(5, 2, 2), 5)
+
+    def test_e07(self):
+        book = Book(2)
+        book.open_seat(0, 0)
+        book.open_seat(1, 0)
+        self.assertEqual(book.tell(0, 0, (1, 2)), 2)
+        self.assertEqual(book.settled(), 0)
+        self.assertEqual(book.tell(1, 0, (3,)), 1)
+        self.assertEqual(book.settled(), 1)
+        self.assertEqual(book.inputs(0), (1, 3))
 
 
 if __name__ == "__main__":

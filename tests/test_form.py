@@ -7,8 +7,8 @@ import pathlib
 import unittest
 
 from guessedworlds import (
-    codes, errors, folding, games, grounds, machines, marks, moves, numbers, programs, rows, runs, standings, ticks,
-    worldrows, worlds,
+    books, changes, codes, errors, folding, games, grounds, hosts, inputrows, letters, machines, marks, moves, numbers,
+    programs, rows, runs, standings, ticks, timelines, worldrows, worlds,
 )
 
 FOLDER = pathlib.Path(errors.__file__).parent
@@ -46,6 +46,32 @@ INTERFACE = {
     rows: {"whole": ["number"], "signed": ["number"], "read_whole": ["row", "at"], "read_signed": ["row", "at"]},
     worldrows: {"world_row": ["game", "world"], "read_world": ["game", "row"]},
     marks: {"mark": ["row"], "mark_behind": ["mark", "row"]},
+    changes: {
+        "changed": ["one", "change"], "change": ["one", "other"], "is_change": ["one", "other", "thing"],
+    },
+    inputrows: {"input_row": ["inputs"], "read_inputs": ["row", "at"]},
+    books: {"Book": ["players"], "rebuilt": ["players", "deeds"], "guess": ["last", "ago", "hold"]},
+    timelines: {"Timeline": ["game", "world", "keep"]},
+    letters: {
+        "sealed": ["row"], "unsealed": ["row"], "read_letter": ["match", "players", "row"],
+        "letter_row": ["match", "players", "letter"],
+    },
+    hosts: {"Host": ["game", "seed", "match", "book"]},
+}
+METHODS = {
+    books.Book: {
+        "word": ["seat"], "begin": ["seat"], "ending": ["seat"], "settled": [], "tell": ["seat", "tick", "inputs"],
+        "open_seat": ["seat", "tick"], "close_seat": ["seat"], "input_at": ["seat", "tick"], "inputs": ["tick"],
+        "deeds": [], "copy": [],
+    },
+    timelines.Timeline: {
+        "base": [], "ending": [], "worked": [], "advance": ["inputs"], "correct": ["tick", "inputs"],
+        "settle": ["tick"], "inputs": ["tick"], "world": ["tick"], "copy": [],
+    },
+    hosts.Host: {
+        "book": [], "settled": [], "base": [], "world": [], "open_seat": ["seat"], "close_seat": ["seat"],
+        "forget": ["tick"], "hear": ["thing"], "places": [], "letters": ["place"],
+    },
 }
 ALLOWED_BUILTINS = """len range enumerate zip min max sum abs sorted reversed int str bool list tuple dict set
     isinstance ord repr any all divmod map iter next ValueError KeyError IndexError LookupError""".split()
@@ -64,6 +90,11 @@ class Interface(unittest.TestCase):
                 thing = getattr(module, name)
                 self.assertEqual(thing.__module__, module.__name__)
                 self.assertEqual(list(inspect.signature(thing).parameters), arguments)
+
+    def test_each_method_stands_in_its_class_with_its_arguments(self):
+        for kind, names in METHODS.items():
+            for name, arguments in names.items():
+                self.assertEqual(list(inspect.signature(vars(kind)[name]).parameters), ["self", *arguments])
 
     def test_each_class_compares_by_itself(self):
         for kind in (

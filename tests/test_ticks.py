@@ -236,8 +236,9 @@ class Ticks(unittest.TestCase):
                 ahead = {body[0]: body for body in world.bodies}
                 for body in behind.bodies:
                     if body[0] in ahead:
-                        self.assertLessEqual(max(abs(body[2] - ahead[body[0]][2]), abs(body[3] - ahead[body[0]][3])), 16)
-                        self.assertEqual(body[1], ahead[body[0]][1])
+                        was = ahead[body[0]]
+                        self.assertLessEqual(max(abs(body[2] - was[2]), abs(body[3] - was[3])), 16)
+                        self.assertEqual(body[1], was[1])
                     else:
                         self.assertGreaterEqual(body[0], world.count)
                 world = behind

@@ -1,11 +1,14 @@
 """Things of all kinds, to be passed where an error is named for an argument."""
 
 from guessedworlds import errors
+from guessedworlds.books import Book, rebuilt
 from guessedworlds.games import Game, Kind
 from guessedworlds.grounds import Ground, sign_at
+from guessedworlds.hosts import Host
 from guessedworlds.numbers import drawn, wrapped
 from guessedworlds.programs import Program
 from guessedworlds.standings import Standing
+from guessedworlds.timelines import Timeline
 from guessedworlds.worlds import World, first_world
 
 DEEP = 40
@@ -49,6 +52,8 @@ def plain_things():
 def gathered_things():
     """Tuples, lists and dicts, deep and long ones too."""
     return [
+        ("open", 0, 0), ("tell", 0, 0, (1,)), ("close", 0), [("shut", 0)], (("tell", 0, 0, (1,)),), ((0, 0, 0),) * 6000,
+        ("say", 0, None, (0, 0), 0, (), 0, 0, ()),
         (), (1,), (True,), (None,), ("tick",), ("gone",), (("gone",),), ("number", 1), ("name", "x"),
         (0, 0, 0, 0), ("....", "####"), (".",), ("x", ()), [], [1], ["."], ["....", "####"], [["gone"]],
         ["number", 1], {}, {1: 2}, {"tick": 1}, {"tick": []}, {(1, "a"): ()}, {None: {}}, {"": ""},
@@ -68,6 +73,8 @@ def other_things():
         {1: 2}.items(), zip(), ValueError("x"), errors.NoSeed(), errors.BadGround([1]),
         right_ground(), Kind(1, 1, False, 0, None), Program({}), right_game(), right_world(),
         World(None, {}, [], (), "", b""), Standing(0, 1, (0,) * 8, (), (), (), ()), World,
+        Book(2), rebuilt(1, [("open", 0, 0), ("tell", 0, 0, (1,))]), Host(right_game(), 7, 0, None),
+        Timeline(right_game(), right_world(), 4), (Book(1),), [right_world()], {"tick": Book(1)},
         nested(lambda thing: World(thing, thing.seed, (), 0, (), ()), right_world()),
     ]
 
