@@ -72,11 +72,8 @@ def change(one, other):
     head = many_alike(one, other)
     tail = many_alike(one[head:][::-1], other[head:][::-1])
     put_in = other[head:len(other) - tail]
-    row = part_row(head, KEPT) + part_row(len(put_in), PUT_IN) + put_in
-    if tail == 0:
-        # What is not kept at the end is left out by itself.
-        return row
-    return row + part_row(len(one) - head - tail, LEFT_OUT) + part_row(tail, KEPT)
+    left_out = part_row(len(one) - head - tail, LEFT_OUT)
+    return part_row(head, KEPT) + part_row(len(put_in), PUT_IN) + put_in + left_out + part_row(tail, KEPT)
 
 
 def is_change(one, other, thing):

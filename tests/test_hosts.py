@@ -25,6 +25,11 @@ CROWD = Game(2, Ground(("." * 20,) * 4), (Kind(4, 4, True, 0, Program({"tick": (
     *[("set", cell, BIG) for cell in ("c0", "c1", "c2", "c3", "s0", "s1")], *[("say", BIG)] * 4,
     ("set", "s2", name("buttons")),
 )})),), tuple([(0, 9 * at, 0, at % 2) for at in range(16)]))
+# One body says as much as is pressed, so its worlds' rows are of any length.
+TALKERS = Game(1, Ground(("." * 20,) * 4), (Kind(1, 1, True, 0, None), Kind(1, 1, True, 0, Program({"tick": (
+    ("set", "c0", name("buttons")),
+    ("while", name("c0"), (("say", num(0)), ("set", "c0", ("sub", name("c0"), num(1))))),
+)}))), ((1, 0, 0, 0), *[(0, 2 * at, 2, -1) for at in range(15)]))
 
 
 def say(place=1, seat=0, heard=(0, 0), tick=0, inputs=(), leaves=False, save=0, pieces=(), match=MATCH):
@@ -355,6 +360,22 @@ class Pieces(unittest.TestCase):
         host.hear(say(seat=None, save=18, pieces=(0, 2)))
         host.forget(19)
         self.assertEqual([piece[1:3] for piece in read(host, 1, CROWD)[:-1]], [(19, at) for at in range(many)])
+
+    def test_saves_of_two_hundred_bytes_and_one_more(self):
+        seen = []
+        for many in range(34):
+            host = Host(TALKERS, SEED, MATCH, None)
+            host.open_seat(0)
+            host.hear(say(heard=(0,), inputs=(many, 0)))
+            host.forget(1)
+            host.hear(say(heard=(0,), place=2, seat=None))
+            row = world_row(TALKERS, run_of(TALKERS, first_world(TALKERS, SEED), [(many,)]))
+            seen.append(len(row))
+            pieces = read(host, 2, TALKERS)[:-1]
+            self.assertEqual([piece[4] for piece in pieces], [row[:200], row[200:]][:len(pieces)])
+            self.assertEqual([piece[3] for piece in pieces], [1] if len(row) <= 200 else [2, 2])
+        self.assertIn(200, seen)
+        self.assertIn(201, seen)
 
     def test_a_save_of_one_piece(self):
         host = host_with(20, 20, forget=3)

@@ -340,6 +340,8 @@ class Wrong(unittest.TestCase):
         for call in (read_letter, letter_row):
             self.assertEqual(raised(call, 2 ** 32, 0, None), (NoNumber, {}))
             self.assertEqual(raised(call, 0, 0, None), (NoNumber, {}))
+            self.assertEqual(raised(call, 2 ** 32, 2, None), (NoNumber, {}))
+            self.assertEqual(raised(call, 0, 5, None), (NoNumber, {}))
             self.assertEqual(raised(call, -1, 2, letter_row(0, 2, SAY)), (NoNumber, {}))
         self.assertEqual(raised(letter_row, 0, 2, None), (NoLetter, {}))
         self.assertIsNone(read_letter(0, 2, None))

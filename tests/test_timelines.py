@@ -220,6 +220,10 @@ class Wrong(unittest.TestCase):
     def test_the_order_of_errors(self):
         self.assertEqual(raised(Timeline, MEADOW, None, None), (NoWorld, {}))
         self.assertEqual(raised(Timeline, MEADOW, START, None), (NoNumber, {}))
+        for keep in (0, 65, -1, True):
+            self.assertEqual(raised(Timeline, MEADOW, START, keep), (NoNumber, {}))
+        for keep in (1, 64):
+            self.assertIsNone(raised(Timeline, MEADOW, START, keep))
         line = begun(4, [(1, 1)] * 3)
         self.assertEqual(raised(line.correct, 3, None), (NoTick, {}))
         self.assertEqual(raised(line.correct, 2, None), (NoInputs, {}))
