@@ -33,8 +33,8 @@ class Host:
             raise NoNumber()
         if book is not None and (not isinstance(book, Book) or book.players != game.players):
             raise NoBook()
-        self._game = game
-        self._match = match
+        self.game = game
+        self.match = match
         self._book = Book(game.players) if book is None else book.copy()
         self._timeline = Timeline(game, first_world(game, seed), MARKED_TICKS)
         self._known = {}
@@ -42,6 +42,10 @@ class Host:
     def book(self):
         """A copy of the book."""
         return self._book.copy()
+
+    def deeds(self):
+        """The list of all deeds that changed the book."""
+        return self._book.deeds()
 
     def settled(self):
         """The book's settled tick."""
@@ -84,7 +88,7 @@ class Host:
 
     def hear(self, thing):
         """Hears what may be a saying: "none" for what is none, "new" if it changed the book, else "old"."""
-        letter = read_letter(self._match, self._game.players, thing)
+        letter = read_letter(self.match, self.game.players, thing)
         if letter is None or letter[0] != "say":
             return "none"
         _, place, seat, heard, tick, inputs, leaves, save, pieces = letter
@@ -114,14 +118,14 @@ class Host:
 
     def _row_of(self, letter):
         """The row of a letter of the match."""
-        return letter_row(self._match, self._game.players, letter)
+        return letter_row(self.match, self.game.players, letter)
 
     def _telling(self, known):
         """The telling for a peer."""
         seats = tuple([self._told_seat(seat, heard) for seat, heard in enumerate(known.heard)])
         settled = self.settled()
         tick = max(self.base(), settled - settled % MARKED_TICKS)
-        row = world_row(self._game, self._world_at(tick))
+        row = world_row(self.game, self._world_at(tick))
         return self._row_of(("tell", seats, settled, tick, marked_on(FIRST_MARK, row)))
 
     def _lacks_base(self, known):
@@ -133,7 +137,7 @@ class Host:
 
     def _pieces(self, known):
         """The letters with the next pieces of the base's save for a peer."""
-        row = world_row(self._game, self._world_at(self.base()))
+        row = world_row(self.game, self._world_at(self.base()))
         many = (len(row) + PIECE_BYTES - 1) // PIECE_BYTES
         gathered = known.pieces if known.save == self.base() else ()
         lacking = [number for number in range(many) if number not in gathered]

@@ -90,6 +90,10 @@ class Timeline:
         self._kept = {at: world for at, world in self._kept.items() if at > tick}
         self._kept[tick] = base
 
+    def right_up_to(self):
+        """The last tick up to which the worlds are worked out already."""
+        return self._last.tick
+
     def worked(self):
         """How many times next_world was called since the making."""
         return self._worked

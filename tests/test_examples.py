@@ -2,8 +2,10 @@
 
 import unittest
 
+from guessedworlds import pictures
 from guessedworlds.books import Book, guess
 from guessedworlds.codes import compiled, heights
+from guessedworlds.disks import read_record, record
 from guessedworlds.games import Game, Kind
 from guessedworlds.grounds import Ground, is_open
 from guessedworlds.inputrows import input_row
@@ -11,6 +13,7 @@ from guessedworlds.marks import mark
 from guessedworlds.moves import room
 from guessedworlds.numbers import drawn, seed_after, wrapped
 from guessedworlds.rows import read_whole, signed, whole
+from guessedworlds.sources import expression_text, read_expression
 from guessedworlds.ticks import run_of
 from guessedworlds.worlds import first_world
 
@@ -66,6 +69,22 @@ class Examples(unittest.TestCase):
         self.assertEqual(book.tell(1, 0, (3,)), 1)
         self.assertEqual(book.settled(), 1)
         self.assertEqual(book.inputs(0), (1, 3))
+
+    def test_e08(self):
+        self.assertEqual(record((7, 8)), (2, 7, 8))
+        self.assertIsNone(read_record((2, 7)))
+
+    def test_e09(self):
+        expression = ("mul", ("add", ("name", "c0"), ("number", 1)), ("minus", ("name", "x")))
+        self.assertEqual(expression_text(expression), "(c0 + 1) * -x")
+        expression = ("sub", ("sub", ("number", 1), ("number", 2)), ("number", 3))
+        self.assertEqual(read_expression("1 - 2 - 3"), expression)
+
+    def test_e10(self):
+        ground = Ground(("....", "####"))
+        plain = Kind(8, 8, True, 0, None)
+        game = Game(1, ground, (plain,), ((0, 0, 0, 0), (0, 20, 0, -1)))
+        self.assertEqual(pictures.drawn(game, first_world(game, 7)), "A.aa\n####\n")
 
 
 if __name__ == "__main__":

@@ -7,8 +7,9 @@ import pathlib
 import unittest
 
 from guessedworlds import (
-    books, changes, codes, errors, folding, games, grounds, hosts, inputrows, letters, machines, marks, moves, numbers,
-    programs, rows, runs, standings, ticks, timelines, worldrows, worlds,
+    books, branches, changes, codes, desks, disks, errors, folding, games, gametexts, grounds, hosts, inputrows, letters,
+    machines, marks, moves, nets, numbers, peers, pictures, programs, reels, replays, rows, runs, savings, sources,
+    standings, ticks, timelines, worldrows, worlds,
 )
 
 FOLDER = pathlib.Path(errors.__file__).parent
@@ -57,6 +58,43 @@ INTERFACE = {
         "letter_row": ["match", "players", "letter"],
     },
     hosts: {"Host": ["game", "seed", "match", "book"]},
+    peers: {"Peer": ["game", "seed", "match", "place", "seat", "rules", "past"]},
+    nets: {"Net": ["game", "seed", "match", "rules"], "led": ["net", "deeds"], "round_trip": ["net"]},
+    sources: {
+        "expression_text": ["expression"], "source_of": ["program"], "read_expression": ["text"], "read_source": ["text"],
+    },
+    gametexts: {"game_text": ["game"], "read_game": ["text"], "game_mark": ["game"]},
+    pictures: {
+        "drawn": ["game", "world"], "cut_out": ["picture", "row", "place", "high", "wide"],
+        "redrawn": ["picture", "changes"], "body_lines": ["game", "world"], "changes": ["one", "other"],
+        "Screen": ["game"],
+    },
+    disks: {
+        "Disk": [], "record": ["row"], "deed_row": ["deed"], "read_record": ["row"], "read_deed": ["row"],
+        "kept_deeds": ["players", "blocks"],
+    },
+    savings: {
+        "SavedHost": ["game", "seed", "match", "disk"],
+        "SavedPeer": ["game", "seed", "match", "place", "seat", "rules", "disk"],
+        "past_row": ["past"], "read_past": ["game", "row"],
+    },
+    replays: {
+        "Replay": ["game", "seed", "every", "turns"], "replay_of": ["game", "seed", "every", "book"],
+        "read_replay": ["game", "row"], "key_marks": ["replay"], "replay_row": ["replay"],
+    },
+    reels: {"Reel": ["replay"]},
+    branches: {"Branches": ["game", "seed"]},
+    desks: {"Desk": []},
+}
+# What the document calls input has another name here, as input is a builtin's.
+HOST_METHODS = {
+    "book": [], "settled": [], "base": [], "world": [], "open_seat": ["seat"], "close_seat": ["seat"],
+    "forget": ["tick"], "hear": ["thing"], "places": [], "letters": ["place"],
+}
+PEER_METHODS = {
+    "press": ["pressed"], "forget": ["tick"], "leave": [], "settled": [], "shown_tick": [], "base": [], "worked": [],
+    "waits": [], "advance": [], "inputs": ["tick"], "own": [], "past": [], "shown": [], "settled_world": [], "say": [],
+    "hear": ["thing"], "apart": [],
 }
 METHODS = {
     books.Book: {
@@ -68,10 +106,21 @@ METHODS = {
         "base": [], "ending": [], "worked": [], "advance": ["inputs"], "correct": ["tick", "inputs"],
         "settle": ["tick"], "inputs": ["tick"], "world": ["tick"], "copy": [],
     },
-    hosts.Host: {
-        "book": [], "settled": [], "base": [], "world": [], "open_seat": ["seat"], "close_seat": ["seat"],
-        "forget": ["tick"], "hear": ["thing"], "places": [], "letters": ["place"],
+    hosts.Host: HOST_METHODS,
+    peers.Peer: PEER_METHODS,
+    nets.Net: {"host": [], "peer": ["place"], "places": [], "bag": [], "deed": ["thing"]},
+    pictures.Screen: {"show": ["world"], "picture": [], "shown": []},
+    disks.Disk: {
+        "write": ["row"], "sync": [], "synced": [], "blocks": [], "cut": ["kept"], "drop": ["number"], "copy": [],
     },
+    savings.SavedHost: {**HOST_METHODS, "store": []},
+    savings.SavedPeer: {**PEER_METHODS, "store": []},
+    reels.Reel: {"stands": [], "worked": [], "world": [], "seek": ["tick"], "kept": [], "copy": []},
+    branches.Branches: {
+        "grow": ["node", "inputs"], "meet": ["one", "other"], "many": [], "worked": [], "graft": ["replay"],
+        "world": ["node"], "path": ["node"], "below": ["node"], "above": ["node"], "replay": ["node", "every"],
+    },
+    desks.Desk: {"tell": ["line"]},
 }
 ALLOWED_BUILTINS = """len range enumerate zip min max sum abs sorted reversed int str bool list tuple dict set
     isinstance ord repr any all divmod map iter next ValueError KeyError IndexError LookupError""".split()
@@ -99,6 +148,7 @@ class Interface(unittest.TestCase):
     def test_each_class_compares_by_itself(self):
         for kind in (
             grounds.Ground, programs.Program, games.Kind, games.Game, worlds.World, standings.Standing,
+            replays.Replay,
         ):
             self.assertIn("__eq__", vars(kind))
 
@@ -132,7 +182,16 @@ class Form(unittest.TestCase):
             for node in tree.body[1:]:
                 self.assertIsInstance(node, (ast.ImportFrom, ast.FunctionDef, ast.ClassDef, ast.Assign), name)
                 if isinstance(node, ast.Assign):
-                    ast.literal_eval(node.value)
+                    self.check_value(tree, node)
+
+    def check_value(self, tree, node):
+        """A plain value, or a table of functions that are defined above it."""
+        above = [part.name for part in tree.body if isinstance(part, ast.FunctionDef) and part.lineno < node.lineno]
+        values = node.value.values if isinstance(node.value, ast.Dict) else []
+        if values and isinstance(values[0], ast.Name):
+            self.assertEqual([value.id for value in values if value.id not in above], [])
+        else:
+            ast.literal_eval(node.value)
 
     def test_imports_are_of_the_package_and_of_the_defining_file(self):
         for name, node in nodes():

@@ -2,11 +2,20 @@
 
 from guessedworlds import errors
 from guessedworlds.books import Book, rebuilt
+from guessedworlds.branches import Branches
+from guessedworlds.desks import Desk
+from guessedworlds.disks import Disk
 from guessedworlds.games import Game, Kind
 from guessedworlds.grounds import Ground, sign_at
 from guessedworlds.hosts import Host
+from guessedworlds.nets import Net
 from guessedworlds.numbers import drawn, wrapped
+from guessedworlds.peers import Peer
+from guessedworlds.pictures import Screen
 from guessedworlds.programs import Program
+from guessedworlds.reels import Reel
+from guessedworlds.replays import Replay
+from guessedworlds.savings import SavedHost, SavedPeer
 from guessedworlds.standings import Standing
 from guessedworlds.timelines import Timeline
 from guessedworlds.worlds import World, first_world
@@ -75,6 +84,10 @@ def other_things():
         World(None, {}, [], (), "", b""), Standing(0, 1, (0,) * 8, (), (), (), ()), World,
         Book(2), rebuilt(1, [("open", 0, 0), ("tell", 0, 0, (1,))]), Host(right_game(), 7, 0, None),
         Timeline(right_game(), right_world(), 4), (Book(1),), [right_world()], {"tick": Book(1)},
+        Peer(right_game(), 7, 0, 5, 0, (2, 8, 4, 60), None), Net(right_game(), 7, 0, (2, 8, 4, 60)), Net, Disk(), Desk(),
+        SavedHost(right_game(), 7, 0, Disk()), SavedPeer(right_game(), 7, 0, 5, 0, (2, 8, 4, 60), Disk()), Disk, Replay,
+        Replay(right_game(), 7, 4, ((1,),)), Reel(Replay(right_game(), 7, 4, ())), Branches(right_game(), 7),
+        Screen(right_game()), [Disk()], (Replay(right_game(), 7, 1, ()),),
         nested(lambda thing: World(thing, thing.seed, (), 0, (), ()), right_world()),
     ]
 
