@@ -33,36 +33,30 @@ def game_text(game):
     return closed_text(lines)
 
 
-def number_read(word):
+def number_of(word):
     """The number that a word tells, None for what is none."""
     return int(word) if is_plain_number(word) and len(word) <= MOST_FIGURES else None
 
 
-def integer_read(word):
-    """The integer that a word tells, None for what is none."""
-    if not word.startswith("-"):
-        return number_read(word)
-    number = number_read(word[1:])
+def thing_of(sort, word):
+    """What a word tells where a number, an integer or a solidity should stand, None for what is none."""
+    if sort == "solidity":
+        return SOLIDITIES.get(word, None)
+    if sort == "number" or not word.startswith("-"):
+        return number_of(word)
+    number = number_of(word[1:])
     return None if number is None or number == 0 else -number
 
 
-def solidity_read(word):
-    """Whether a kind is solid, as a word tells, None for another one."""
-    return SOLIDITIES.get(word, None)
-
-
-def things_read(lines, first, readers):
-    """What the next line tells, that has a first word and one word more for each of some readers."""
+def things_read(lines, first, sorts):
+    """What the next line tells, that has a first word, and one word more for each of some sorts."""
     line = lines.take()
     words = line.split()
-    if words[0] != first or len(words) != len(readers) + 1:
+    if words[0] != first or len(words) != len(sorts) + 1:
         raise BadText(lines.number)
-    found = []
-    for word, reader in zip(words[1:], readers):
-        thing = reader(word)
-        if thing is None:
-            raise BadText(lines.number)
-        found.append(thing)
+    found = [thing_of(sort, word) for sort, word in zip(sorts, words[1:])]
+    if None in found:
+        raise BadText(lines.number)
     return tuple(found)
 
 
@@ -80,7 +74,7 @@ def kinds_read(lines):
     """The list of the kinds that stand here: pairs of what a kind's line tells and its handlers, None without."""
     found = []
     while lines.first_word() == "kind":
-        told = things_read(lines, "kind", (number_read, number_read, solidity_read, integer_read))
+        told = things_read(lines, "kind", ("number", "number", "solidity", "integer"))
         handlers = None
         if lines.first_word() == "program":
             things_read(lines, "program", ())
@@ -93,7 +87,7 @@ def births_read(lines):
     """The tuple of the births that stand here."""
     found = []
     while not lines.is_over():
-        found.append(things_read(lines, "birth", (number_read, integer_read, integer_read, integer_read)))
+        found.append(things_read(lines, "birth", ("number", "integer", "integer", "integer")))
     return tuple(found)
 
 
@@ -107,7 +101,7 @@ def made_kind(told, handlers):
 def read_game(text):
     """The game that a text tells."""
     lines = TextLines(text)
-    players = things_read(lines, "players", (number_read,))[0]
+    players = things_read(lines, "players", ("number",))[0]
     things_read(lines, "ground", ())
     rows = rows_read(lines)
     kinds = kinds_read(lines)

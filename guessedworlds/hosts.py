@@ -23,14 +23,19 @@ class Known:
         self.pieces = pieces
 
 
+def check_start(seed, match):
+    """Raises what is to be raised for what is no seed, then for what is no match."""
+    if not is_seed(seed):
+        raise NoSeed()
+    if not is_match(match):
+        raise NoNumber()
+
+
 class Host:
     """The host of a match of a game."""
 
     def __init__(self, game, seed, match, book):
-        if not is_seed(seed):
-            raise NoSeed()
-        if not is_match(match):
-            raise NoNumber()
+        check_start(seed, match)
         if book is not None and (not isinstance(book, Book) or book.players != game.players):
             raise NoBook()
         self.game = game

@@ -85,7 +85,7 @@ def letter_at(net, number):
 def do_bring(net, number):
     """A letter is taken out and heard: what hearing it returned, None if there is nobody whom it is for."""
     to, row = letter_at(net, number)
-    del net.mail[number]
+    net.mail.pop(number)
     if to == TO_HOST:
         return net.host().hear(row)
     return net.peer(to).hear(row) if to in net.peers else None
@@ -94,7 +94,7 @@ def do_bring(net, number):
 def do_lose(net, number):
     """A letter is taken out."""
     letter_at(net, number)
-    del net.mail[number]
+    net.mail.pop(number)
 
 
 def do_double(net, number):
@@ -121,7 +121,7 @@ def do_fall(net, place, later):
     """A peer is gone, and one with its seat is made at a place at which none ever was."""
     seat = net.peer(place).seat
     check_new_place(net, later)
-    del net.peers[place]
+    net.peers.pop(place)
     put_peer(net, later, new_peer(net, later, seat, None))
 
 

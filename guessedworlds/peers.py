@@ -59,7 +59,7 @@ class Peer:
         self._pressed = NO_INPUT
         self._leaves = False
         self._settled = world.tick
-        # The tick of the save that is gathered, 0 for none, and its pieces by their numbers.
+        # The tick of the save that is gathered, 0 for none, and its pieces, rows by their numbers.
         self._save = 0
         self._parts = {}
         # The pairs (tick, mark) that were told of ticks from the base on, and whether they were looked at.
@@ -114,8 +114,6 @@ class Peer:
 
     def inputs(self, tick):
         """The inputs of all seats by which a tick is shown."""
-        if not is_between(self.base(), self.shown_tick() - 1, tick):
-            raise NoTick()
         return self._timeline.inputs(tick)
 
     def shown(self):

@@ -108,7 +108,7 @@ def turns_read(reader, players, many):
         if len(inputs) != many:
             raise BadRow(place)
         columns.append(inputs)
-    return tuple([tuple([inputs[tick] for inputs in columns]) for tick in range(many)])
+    return tuple([tuple([column[tick] for column in columns]) for tick in range(many)])
 
 
 def check_marks(replay, marks):

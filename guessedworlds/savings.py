@@ -7,7 +7,7 @@ from guessedworlds.disks import Disk, deed_row, kept_deeds, read_record, record
 from guessedworlds.errors import BadChange, BadRow, NoDisk, NoPast, NoRow, OtherMatch
 from guessedworlds.games import MOST_PLAYERS
 from guessedworlds.gametexts import game_mark
-from guessedworlds.hosts import Host
+from guessedworlds.hosts import Host, check_start
 from guessedworlds.inputrows import input_row, inputs_read
 from guessedworlds.letters import SEAT_BYTES
 from guessedworlds.numbers import is_between
@@ -142,18 +142,16 @@ class SavedHost:
     """A host whose book lasts upon a disk."""
 
     def __init__(self, game, seed, match, disk):
-        host = Host(game, seed, match, None)
+        check_start(seed, match)
         begin = (HOST_BEGIN, *whole(match), *whole(seed), *whole(game_mark(game)))
         check_disk(disk, begin, 0)
         begin_disk(disk, begin)
         deeds = kept_deeds(game.players, disk.blocks()[1:])
         disk.drop(1 + len(deeds))
         disk.sync()
-        if deeds:
-            host = Host(game, seed, match, rebuilt(game.players, deeds))
         self.game = game
         self.match = match
-        self._host = host
+        self._host = Host(game, seed, match, rebuilt(game.players, deeds))
         self._disk = disk
         # How many deeds the disk has.
         self._stored = len(deeds)
@@ -226,9 +224,7 @@ def learnt_row(game, seat, row, part):
         past = read_past(game, found)
     except (BadChange, NoRow):
         return None
-    if past is None or base_of(game, seat, past) is None:
-        return None
-    return found
+    return None if base_of(game, seat, past) is None else found
 
 
 class SavedPeer:

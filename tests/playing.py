@@ -4,7 +4,7 @@ from guessedworlds.disks import Disk
 from guessedworlds.errors import NoDeed
 from guessedworlds.games import Game
 from guessedworlds.letters import letter_row
-from guessedworlds.nets import Net
+from guessedworlds.nets import Net, round_trip
 from guessedworlds.savings import SavedHost, SavedPeer
 from guessedworlds.ticks import run_of
 from tests.growing import MEADOW
@@ -81,14 +81,15 @@ class Play:
         place, many = chance.choice(net.places()), len(net.bag())
         letter = chance.choice((0, 0, chance.randrange(max(many, 1))))
         seat = chance.randrange(self.game.players)
-        often = [("advance", place)] * 5 + [("post", place), ("serve", place)] * 3 + [("bring", letter)] * 8
+        often = [("advance", place)] * 4 + [("post", place), ("serve", place)] * 2 + [("bring", letter)] * min(many, 12)
         often += [("press", place, chance.randrange(256)), ("open", seat), ("lose", letter), ("double", letter)]
-        seldom = [("spoil", letter, chance.randrange(40), chance.randrange(256)), ("leave", place), ("rise", place),
-                  ("close", seat), ("back",), ("forget", chance.randrange(net.host().settled() + 1)),
+        seldom = [("spoil", letter, chance.randrange(40), chance.randrange(256)), ("rise", place),
+                  ("leave", place) if chance.randrange(4) == 0 else ("press", place, chance.randrange(256)),
+                  ("close", seat) if chance.randrange(3) == 0 else ("advance", place), ("back",), ("forget", chance.randrange(net.host().settled() + 1)),
                   ("send", chance.choice((-1, place, 77)), self.made_up())]
         if self.falls:
             seldom.append(("fall", place, self.next_place))
-        return chance.choice(often) if chance.randrange(12) else chance.choice(seldom)
+        return chance.choice(often) if chance.randrange(15) else chance.choice(seldom)
 
     def made_up(self):
         """A row that is no letter of the match."""
@@ -133,6 +134,8 @@ class Play:
         self.net.deed(("host", SavedHost(self.game, SEED, MATCH, self.host_disk)))
         after = self.net.host().book().deeds()
         self.case.assertEqual(after, before[:len(after)])
+        # What nobody was told of may be gone, and come otherwise.
+        self.plain = Plain(self.game)
 
     def peer_again(self, place, seat):
         """A peer is made anew of its disk, at its place or at another one."""
@@ -148,6 +151,9 @@ class Play:
         for step in range(steps):
             if self.chance.randrange(30) == 0 and (self.host_disk or self.disks):
                 self.cut_someone_down()
+            elif self.chance.randrange(50) == 0:
+                round_trip(self.net)
+                self.do(("forget", max(0, self.net.host().settled() - self.chance.randrange(9))))
             else:
                 self.do(self.a_deed())
             if self.chance.randrange(20) == 0:

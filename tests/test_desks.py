@@ -62,7 +62,8 @@ class Games(unittest.TestCase):
             ("game a players 1|ground", (BadText, {"line": 3})), ("game a players 9|ground|.|end|kind 1 1 thin 0|", (BadGame, {"part": "players"})),
         ):
             self.assertEqual(raised(desk.tell, line), error)
-        for line in ("game", "game ", "game a", "game a ", "game A x", "game  x", "game abcdefghi x", "game a1 x", " game a x", "games a x"):
+        for line in ("game", "game ", "game a", "game a ", "game A x", "game  x", "game abcdefghi x", "game a1 x", " game a x", "games a x",
+                     "game a players 1|ground|.|end|kind 1 1 thin 0\n", "game a players 1|ground\n.|end|kind 1 1 thin 0"):
             self.assertEqual(raised(desk.tell, line), (NoLine, {}))
         self.assertEqual(desk.tell("source a"), "players 1|ground|.|end|kind 1 1 thin 0|")
 
@@ -133,6 +134,19 @@ class Matches(unittest.TestCase):
         desk = desk_with("do t join 1")
         told = [desk.tell("do t advance 1") for _ in range(62)]
         self.assertEqual(told, ["yes"] * 60 + ["no"] * 2)
+
+    def test_the_rules(self):
+        count = Program({"tick": (("set", "c0", ("add", ("name", "c0"), ("press", ("number", 0)))),)})
+        game = Game(1, Ground((".",)), (Kind(1, 1, True, 0, count),), ((0, 0, 0, 0),))
+        desk = desk_with(line_of("count", game), "match n count 7", "do n join 1 0", "do n join 2", "do n open 0", "round n")
+        for line in ("do n press 1 1", "do n advance 1", "round n"):
+            desk.tell(line)
+        # It leads by two ticks more than the one that was shown; they are guessed to hold for eight more.
+        self.assertEqual((desk.tell("settled n"), desk.tell("tick n 2")), ("3", "3"))
+        told = [desk.tell("do n advance 2") for _ in range(61)]
+        self.assertEqual(told, ["yes"] * 60 + ["no"])
+        self.assertEqual(desk.tell("bodies n 2"), "0 0 0 0 0 0 0 11 0 0 0|")
+        self.assertEqual(desk.matches["n"].rules, RULES)
 
     def test_in_the_place_of_an_elder_one(self):
         desk = desk_with(*PLAYED)

@@ -96,7 +96,7 @@ class Wrong(unittest.TestCase):
             (0, ("players", "players 2 2", "player 2", "players two", "players -1", "players 02", "players +2", "ground", "Players 2")),
             (1, ("ground x", "grounds", "players 2", "kind 8 3 solid -4")),
             (5, ("kind 8 3 solid", "kind 8 3 solid -4 1", "kind 8 3 firm 0", "kind 8 3 Solid 0", "kind -8 3 solid 0", "kind x 3 solid 0",
-                 "kind 8 3 solid -0", "kind 8 3 solid 00", "kind 08 3 solid 0", "kind 8 03 solid 0", "kind 8 3 solid - 4", "kinds",
+                 "kind 8 3 solid -0", "kind 8 3 solid 00", "kind 08 3 solid 0", "kind 8 03 solid 0", "kind 8 3 solid - 4", "kinds", "kind 8 3 solid -",
                  "kind 8 3 solid --4", "kind 8 3 solid +4", "kind 8 3 thin 4.0", "end", "program", "gone", "on tick")),
             (6, ("program x", "programs", "on tick")), (8, ("dx = ", "walk", "kind 1 1 thin 0", "on touch")),
             (17, ("birth 0 0 5", "birth 0 0 5 -1 0", "birth -1 0 5 -1", "birth 0 0 5 -01", "birth 0 -0 5 -1", "birth 0 x 5 -1", "births",

@@ -15,17 +15,18 @@ from guessedworlds.worldrows import read_world, world_row
 from guessedworlds.worlds import first_world
 from tests.growing import MEADOW, grown_game
 from tests.playing import CROWDED, Play
+from tests.test_hosts import CROWD
 from tests.toldpeer import MATCH, SEED
 
 
 class Matches(unittest.TestCase):
-    def played(self, seed, game, disks, falls, steps=350):
+    def played(self, seed, game, disks, falls, steps=260):
         play = Play(self, random.Random(seed), game, disks, falls)
-        play.play(steps, 14)
+        play.play(steps, 17)
         return play
 
     def test_two_seats(self):
-        for seed in range(12):
+        for seed in range(9):
             self.played(seed, MEADOW, False, True)
 
     def test_four_seats(self):
@@ -38,11 +39,15 @@ class Matches(unittest.TestCase):
             self.played(seed, grown_game(chance), False, True, 150)
 
     def test_cut_down(self):
-        for seed in range(300, 312):
-            self.played(seed, MEADOW if seed % 3 else CROWDED, True, True)
+        for seed in range(300, 309):
+            self.played(seed, (MEADOW, CROWDED, CROWD)[seed % 3], True, True)
+
+    def test_saves_of_many_pieces(self):
+        for seed in range(350, 354):
+            self.played(seed, CROWD, False, True)
 
     def test_presses(self):
-        for seed in range(400, 412):
+        for seed in range(400, 408):
             play = self.played(seed, MEADOW, seed % 2 == 0, False)
             play.check_presses()
 
@@ -79,7 +84,7 @@ class OneWorld(unittest.TestCase):
         play = Play(self, random.Random(600))
         for seat in range(2):
             play.do(("open", seat))
-        for _ in range(12):
+        for _ in range(9):
             play.play(20, 20)
             for place in play.net.places():
                 play.do(("advance", place))

@@ -412,10 +412,19 @@ class Marks(unittest.TestCase):
             self.assertEqual((one.base(), one.apart()), (9, expected))
 
 
+    def test_of_the_tick_of_a_save(self):
+        for told, expected in ((5, 9), (mark(world_row(MEADOW, world_at(9))), None)):
+            one = peer(None)
+            one.hear(tell(("open", 0, 12, 0, (1,) * 4), None, settled=12, tick=9, told=told))
+            one.hear(pieces(world_row(MEADOW, world_at(9)), 9)[0])
+            self.assertEqual((one.base(), one.apart()), (9, expected))
+
+
 class Errors(unittest.TestCase):
     def test_no_tick_changes_nothing(self):
         one = peer()
         one.hear(tell(opened(8), None, settled=8))
+        one.advance()
         one.forget(3)
         before = (one.past(), one.say(), one.shown_tick(), one.settled())
         for thing in (2, 9, -1, None, True, "3"):
@@ -549,6 +558,17 @@ class Work(unittest.TestCase):
             one.shown()
             self.assertLessEqual(one.worked() - before, 170 - 39 + keep)
             self.assertGreaterEqual(one.worked() - before, 170 - 39)
+
+    def test_what_calls_ahead_changed_is_not_put_off_for_long(self):
+        one = peer(None, (2, 600, 1, 200))
+        for _ in range(100):
+            one.advance()
+        one.hear(tell(opened(9), opened(30)))
+        one.forget(9)
+        before = one.worked()
+        one.hear(tell(opened(9), ("open", 0, 96, 30, (1,) * 65 + (7,))))
+        one.shown()
+        self.assertLessEqual(one.worked() - before, 3 + 5)
 
     def test_a_save_is_gone_on_from(self):
         one = peer(None)

@@ -135,7 +135,7 @@ class Pasts(unittest.TestCase):
             self.can_be(self.with_seat(seat, own=own))
             self.can_be(self.with_seat(("closed", *seat[1:]), own=own))
         for own in ((2, (1,)), (6, (1,)), (1, ()), (3, ()), (3, [1]), [3, (1,)], (3,), (3, (1,), 0), None, (True, (1,)),
-                    (3, (256,)), (3, (1,) * FAR), (-1, ()), (FAR + 1, ())):
+                    (3, (256,)), (3, (1,) * FAR), (-1, ()), (FAR + 1, ()), (False, ())):
             self.can_not_be(self.with_seat(seat, own=own))
         self.can_be(self.with_seat(("open", 3, 9, ()), 9, (4, (1, 2))))
         self.can_be(self.with_seat(("open", FAR - 2, FAR - 2, ()), own=(FAR - 2, (1, 1))))

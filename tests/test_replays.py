@@ -122,6 +122,13 @@ class Rows(unittest.TestCase):
             replay = Replay(game, chance.randrange(1, 2 ** 31 - 1), chance.choice((1, 3, 512)), turns)
             self.assertEqual(read_replay(game, replay_row(replay)), replay)
 
+    def test_at_the_edges_of_numbers(self):
+        for seed in (1, 2 ** 31 - 2):
+            for every in (1, 512):
+                for turns in ((), ((255,),) * MOST):
+                    replay = Replay(SMALL, seed, every, turns if every == 512 else turns[:9])
+                    self.assertEqual(read_replay(SMALL, replay_row(replay)), replay)
+
     def places(self, row):
         """Where each number stands, and where the inputs of both players begin."""
         places, at = [], 0

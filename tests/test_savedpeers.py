@@ -11,6 +11,7 @@ from guessedworlds.errors import (
 from guessedworlds.games import Game
 from guessedworlds.gametexts import game_mark
 from guessedworlds.inputrows import input_row
+from guessedworlds.letters import read_letter
 from guessedworlds.peers import Peer
 from guessedworlds.rows import whole
 from guessedworlds.savings import SavedPeer, past_row, read_past
@@ -278,6 +279,15 @@ class Writing(unittest.TestCase):
                     self.assertEqual(getattr(one, name)(), getattr(other, name)(), name)
             one.store()
             self.assertEqual(peer_of(disk).past(), one.past())
+
+    def test_leaving(self):
+        self.peer.hear(tell(("open", 0, 0, 0, ()), None))
+        self.peer.advance()
+        self.assertIs(read_letter(MATCH, 2, self.peer.say())[6], False)
+        self.assertIsNone(self.peer.leave())
+        self.assertIs(read_letter(MATCH, 2, self.peer.say())[6], True)
+        self.peer.advance()
+        self.assertEqual(self.peer.own(), (0, (0, 0, 0)))
 
     def test_errors_change_nothing(self):
         self.peer.hear(tell(("open", 0, 2, 0, (1, 2)), None))

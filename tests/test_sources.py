@@ -100,7 +100,7 @@ class Wrong(unittest.TestCase):
             "make 0 x, x, x", "make0, x, x, x", "make 0", "make", "make 0,", "push x, x", "push x, x, x, x", "push", "push x x x",
             "gone x", "gone()", "say", "say x, x", "sayx", "if", "while", "if x, x", "else x", "end x", "set c0 = 1", "c0 = 1 ! x",
             "c0 = 1;", "on touch", "on", "and", "say x = ", "say 1 2", "ifx", "say not", "say " + "not " * 10 + "x", "#", "'x'",
-            "say x\ty",
+            "say x\ty", "mike 0, x, x, x", "make 0 = x, x, x", "c0 + 1", "c0 , 1", "c0 < 1", "say 0, x, x, x", "x 0, x, x, x",
         ):
             self.bad(2, within(row))
             self.bad(4, within("if x", "gone", row, "end"))
