@@ -85,7 +85,8 @@ class Play:
         often += [("press", place, chance.randrange(256)), ("open", seat), ("lose", letter), ("double", letter)]
         seldom = [("spoil", letter, chance.randrange(40), chance.randrange(256)), ("rise", place),
                   ("leave", place) if chance.randrange(4) == 0 else ("press", place, chance.randrange(256)),
-                  ("close", seat) if chance.randrange(3) == 0 else ("advance", place), ("back",), ("forget", chance.randrange(net.host().settled() + 1)),
+                  ("close", seat) if chance.randrange(3) == 0 else ("advance", place), ("back",),
+                  ("forget", chance.randrange(net.host().settled() + 1)),
                   ("send", chance.choice((-1, place, 77)), self.made_up())]
         if self.falls:
             seldom.append(("fall", place, self.next_place))

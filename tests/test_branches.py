@@ -41,7 +41,8 @@ class Trees(unittest.TestCase):
 
     def test_like_and_unlike_inputs(self):
         tree = Branches(MEADOW, 7)
-        self.assertEqual([tree.grow(0, (1, 0)), tree.grow(0, (0, 1)), tree.grow(0, (1, 0)), tree.grow(1, (1, 0))], [1, 2, 1, 3])
+        self.assertEqual([tree.grow(0, (1, 0)), tree.grow(0, (0, 1)), tree.grow(0, (1, 0)), tree.grow(1, (1, 0))],
+                         [1, 2, 1, 3])
         self.assertEqual((tree.grow(2, (1, 0)), tree.grow(1, (1, 0)), tree.grow(0, (9, 9))), (4, 3, 5))
         self.assertEqual((tree.many(), tree.worked()), (6, 5))
         self.assertEqual([tree.below(node) for node in range(6)], [(1, 2, 5), (3,), (4,), (), (), ()])
@@ -63,7 +64,9 @@ class Trees(unittest.TestCase):
             self.assertEqual(tree.world(node), run_of(MEADOW, first_world(MEADOW, 7), path))
             self.assertEqual(tree.below(node), tuple(sorted([child for child in above if above[child][0] == node])))
         self.assertEqual(len(set(paths.values())), 60)
-        ways = {node: [other for other in range(60) if paths[node][:len(paths[other])] == paths[other]] for node in range(60)}
+        ways = {}
+        for node in range(60):
+            ways[node] = [other for other in range(60) if paths[node][:len(paths[other])] == paths[other]]
         for one in range(60):
             for other in range(60):
                 both = [node for node in ways[one] if node in ways[other]]
@@ -75,7 +78,8 @@ class Trees(unittest.TestCase):
         for _ in range(3000):
             nodes.append(tree.grow(nodes[-1], (1,)))
         late = tree.grow(5, (2,))
-        self.assertEqual((tree.meet(late, 3000), tree.meet(3000, late), tree.meet(2, late), tree.meet(7, late)), (5, 5, 2, 5))
+        self.assertEqual((tree.meet(late, 3000), tree.meet(3000, late), tree.meet(2, late), tree.meet(7, late)),
+                         (5, 5, 2, 5))
 
     def test_graft(self):
         tree = Branches(MEADOW, 7)
@@ -91,10 +95,14 @@ class Trees(unittest.TestCase):
         tree.grow(0, (1, 1))
         alike = Game(2, MEADOW.ground, MEADOW.kinds, MEADOW.births)
         for call, arguments, error in (
-            (tree.grow, (2, None), NoNode), (tree.grow, (1, None), NoInputs), (tree.grow, (1, (1,)), NoInputs), (tree.world, (2,), NoNode),
-            (tree.path, (-1,), NoNode), (tree.above, (True,), NoNode), (tree.below, (None,), NoNode), (tree.meet, (2, 0), NoNode),
-            (tree.meet, (0, 2), NoNode), (tree.replay, (2, 0), NoNode), (tree.replay, (1, 0), NoNumber), (tree.replay, (1, 513), NoNumber),
-            (tree.graft, (None,), NoReplay), (tree.graft, (tree,), NoReplay), (tree.graft, (Replay(MEADOW, 8, 1, ()),), OtherGame),
+            (tree.grow, (2, None), NoNode), (tree.grow, (1, None), NoInputs), (tree.grow, (1, (1,)), NoInputs),
+            (tree.world, (2,), NoNode),
+            (tree.path, (-1,), NoNode), (tree.above, (True,), NoNode), (tree.below, (None,), NoNode),
+            (tree.meet, (2, 0), NoNode),
+            (tree.meet, (0, 2), NoNode), (tree.replay, (2, 0), NoNode), (tree.replay, (1, 0), NoNumber),
+            (tree.replay, (1, 513), NoNumber),
+            (tree.graft, (None,), NoReplay), (tree.graft, (tree,), NoReplay),
+            (tree.graft, (Replay(MEADOW, 8, 1, ()),), OtherGame),
             (tree.graft, (Replay(Game(2, MEADOW.ground, MEADOW.kinds, ()), 7, 1, ((1, 1),)),), OtherGame),
             (tree.graft, (Replay(SMALL, 7, 1, ((1,),)),), OtherGame),
         ):
@@ -117,7 +125,8 @@ class Trees(unittest.TestCase):
     def test_things_in_the_place_of_each_argument(self):
         tree = grown(5, random.Random(292))[0]
         node = is_from(0, 4)
-        for call in (tree.world, tree.path, tree.above, tree.below, lambda thing: tree.meet(0, thing), lambda thing: tree.meet(thing, 0),
+        for call in (tree.world, tree.path, tree.above, tree.below, lambda thing: tree.meet(0, thing),
+                     lambda thing: tree.meet(thing, 0),
                      lambda thing: tree.replay(thing, 1)):
             only_named(self, call, (NoNode, {}), node)
         only_named(self, lambda thing: tree.replay(1, thing), (NoNumber, {}), is_from(1, 512))

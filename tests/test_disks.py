@@ -27,7 +27,8 @@ class Disks(unittest.TestCase):
         self.assertEqual((disk.sync(), disk.synced()), (1, 3))
 
     def test_cut(self):
-        for kept, rows in (((0, 0), [(), ()]), ((3, 1), [(1, 2, 3), (4,)]), ((2, 0), [(1, 2), ()]), ((0, 1), [(), (4,)])):
+        for kept, rows in (((0, 0), [(), ()]), ((3, 1), [(1, 2, 3), (4,)]), ((2, 0), [(1, 2), ()]),
+                           ((0, 1), [(), (4,)])):
             disk = Disk()
             disk.write((9, 9))
             disk.sync()
@@ -44,7 +45,8 @@ class Disks(unittest.TestCase):
         disk.sync()
         disk.write((1, 2, 3))
         disk.write(())
-        for kept in ((), (3,), (3, 0, 0), (4, 0), (3, 1), (-1, 0), [3, 0], (True, 0), (3, False), (None, 0), 3, None, {0: 3}):
+        for kept in ((), (3,), (3, 0, 0), (4, 0), (3, 1), (-1, 0), [3, 0], (True, 0), (3, False), (None, 0), 3, None,
+                     {0: 3}):
             self.assertEqual(raised(disk.cut, kept), (NoCut, {}))
         self.assertEqual(self.state(disk), ([(9, 9), (1, 2, 3), ()], 1))
         only_named(self, lambda thing: disk.copy().cut(thing), (NoCut, {}), lambda thing: False)
@@ -101,7 +103,8 @@ class Records(unittest.TestCase):
             self.assertIsNone(read_record(found + (0,)))
 
     def test_what_is_none(self):
-        for row in ((), (1,), (0, 0), (2, 1), (2, 1, 1, 1), (128,), (128, 0), (129, 0, 5), (255,) * 9 + (1,), (255,) * 11,
+        for row in ((), (1,), (0, 0), (2, 1), (2, 1, 1, 1), (128,), (128, 0), (129, 0, 5), (255,) * 9 + (1,),
+                    (255,) * 11,
                     (128, 1) + (0,) * 127):
             self.assertIsNone(read_record(row))
         self.assertEqual((read_record((0,)), read_record((128, 1) + (0,) * 128)), ((), (0,) * 128))
@@ -114,7 +117,8 @@ class Records(unittest.TestCase):
 class Deeds(unittest.TestCase):
     def test_there_and_back(self):
         for deed, row in (
-            (("open", 0, 0), (1, 0, 0)), (("open", 3, FAR), (1, 3, *whole(FAR))), (("close", 0), (3, 0)), (("close", 3), (3, 3)),
+            (("open", 0, 0), (1, 0, 0)), (("open", 3, FAR), (1, 3, *whole(FAR))), (("close", 0), (3, 0)),
+            (("close", 3), (3, 3)),
             (("tell", 2, 300, (5, 5, 0)), (2, 2, 172, 2, 2, 5, 2, 0, 1)), (("tell", 0, 0, ()), (2, 0, 0, 0)),
             (("tell", 1, FAR, (255,) * FAR), (2, 1, *whole(FAR), *input_row((255,) * FAR))),
         ):
@@ -123,9 +127,12 @@ class Deeds(unittest.TestCase):
 
     def test_no_deed(self):
         for thing in (
-            ("open", 0), ("open", 4, 0), ("open", -1, 0), ("open", 0, FAR + 1), ("open", 0, -1), ("open", True, 0), ("open", 0, False),
-            ("open", 0, 0, ()), ("close",), ("close", 4), ("close", 0, 0), ("tell", 0, 0), ("tell", 0, 0, [1]), ("tell", 0, 0, (256,)),
-            ("tell", 0, 0, (1,) * (FAR + 1)), ("tell", 4, 0, (1,)), ("tell", 0, FAR + 1, ()), ("tell", 0, 0, (1,), 0), ("shut", 0),
+            ("open", 0), ("open", 4, 0), ("open", -1, 0), ("open", 0, FAR + 1), ("open", 0, -1), ("open", True, 0),
+            ("open", 0, False),
+            ("open", 0, 0, ()), ("close",), ("close", 4), ("close", 0, 0), ("tell", 0, 0), ("tell", 0, 0, [1]),
+            ("tell", 0, 0, (256,)),
+            ("tell", 0, 0, (1,) * (FAR + 1)), ("tell", 4, 0, (1,)), ("tell", 0, FAR + 1, ()), ("tell", 0, 0, (1,), 0),
+            ("shut", 0),
             ["open", 0, 0], (), ("open",), (1, 0, 0), None, "open", ("tell", None, 0, ()),
         ):
             self.assertEqual(raised(deed_row, thing), (NoDeed, {}))
@@ -133,13 +140,16 @@ class Deeds(unittest.TestCase):
         only_named(self, deed_row, (NoDeed, {}), lambda thing: thing in right)
         for deed in right:
             for at, part in enumerate(deed):
-                fits = (lambda thing: False, is_from(0, 3), is_from(0, FAR), lambda thing: is_row(thing) and len(thing) <= FAR)[at]
+                fits = (lambda thing: False, is_from(0, 3), is_from(0, FAR),
+                        lambda thing: is_row(thing) and len(thing) <= FAR)[at]
                 only_named(self, lambda thing: deed_row(with_part(deed, at, thing)), (NoDeed, {}),
                            lambda thing: fits(thing) or (at == 0 and thing == part))
 
     def test_rows_of_none(self):
-        for row in ((), (0,), (1,), (4, 0), (0, 0, 0), (1, 0), (1, 4, 0), (1, 0, 0, 0), (1, 128, 0, 0), (3,), (3, 4), (3, 0, 0),
-                    (1, 0, *whole(FAR + 1)), (2, 0, 0), (2, 0, 0, 1), (2, 0, 0, 1, 5), (2, 0, 0, 1, 5, 0), (2, 0, 0, 2, 5, 1, 5, 1),
+        for row in ((), (0,), (1,), (4, 0), (0, 0, 0), (1, 0), (1, 4, 0), (1, 0, 0, 0), (1, 128, 0, 0), (3,), (3, 4),
+                    (3, 0, 0),
+                    (1, 0, *whole(FAR + 1)), (2, 0, 0), (2, 0, 0, 1), (2, 0, 0, 1, 5), (2, 0, 0, 1, 5, 0),
+                    (2, 0, 0, 2, 5, 1, 5, 1),
                     (2, 0, 0, 0, 0), (2, 0, *whole(FAR + 1), 0), (2, 4, 0, 0), (131, 0, 0)):
             self.assertIsNone(read_deed(row))
         only_named(self, read_deed, (NoRow, {}), is_row)
@@ -156,7 +166,8 @@ class Deeds(unittest.TestCase):
 
 
 class Kept(unittest.TestCase):
-    DEEDS = [("open", 0, 0), ("tell", 0, 0, (1, 2)), ("open", 1, 2), ("tell", 1, 2, (9,)), ("tell", 0, 2, (3, 3)), ("close", 1)]
+    DEEDS = [("open", 0, 0), ("tell", 0, 0, (1, 2)), ("open", 1, 2), ("tell", 1, 2, (9,)), ("tell", 0, 2, (3, 3)),
+             ("close", 1)]
 
     def blocks(self, deeds):
         return [record(deed_row(deed)) for deed in deeds]
@@ -168,17 +179,22 @@ class Kept(unittest.TestCase):
         self.assertEqual((kept_deeds(2, []), kept_deeds(4, ())), ([], []))
         for at in range(len(blocks)):
             self.assertEqual(kept_deeds(2, blocks[:at]), self.DEEDS[:at])
-            for other in ((), blocks[at][:-1], blocks[at] + (0,), (0,), record((9, 9)), record(()), deed_row(self.DEEDS[at])):
+            for other in ((), blocks[at][:-1], blocks[at] + (0,), (0,), record((9, 9)), record(()),
+                          deed_row(self.DEEDS[at])):
                 self.assertEqual(kept_deeds(2, [*blocks[:at], other, *blocks[at + 1:]]), self.DEEDS[:at])
                 self.assertEqual(kept_deeds(2, [*blocks[:at], other, *blocks[at:]]), self.DEEDS[:at])
 
     def test_what_the_book_refuses(self):
         for deeds, many in (
-            ([("open", 0, 0), ("open", 0, 0)], 1), ([("close", 0)], 0), ([("tell", 0, 0, (1,))], 0), ([("open", 2, 0)], 0),
+            ([("open", 0, 0), ("open", 0, 0)], 1), ([("close", 0)], 0), ([("tell", 0, 0, (1,))], 0),
+            ([("open", 2, 0)], 0),
             ([("open", 0, 5), ("tell", 0, 6, (1,))], 1), ([("open", 0, 0), ("tell", 0, 0, ())], 1),
-            ([("open", 0, 0), ("tell", 0, 0, (1, 2)), ("tell", 0, 1, (2, 3))], 2), ([("open", 0, 3), ("open", 1, 2)], 1),
-            ([("open", 0, 0), ("tell", 0, 0, (1,)), ("tell", 0, 0, (1,))], 2), ([("open", 0, 0), ("close", 0), ("close", 0)], 2),
-            ([("open", 0, FAR - 1), ("tell", 0, FAR - 1, (1, 1))], 1), ([("open", 0, FAR - 1), ("tell", 0, FAR - 1, (1,))], 2),
+            ([("open", 0, 0), ("tell", 0, 0, (1, 2)), ("tell", 0, 1, (2, 3))], 2),
+            ([("open", 0, 3), ("open", 1, 2)], 1),
+            ([("open", 0, 0), ("tell", 0, 0, (1,)), ("tell", 0, 0, (1,))], 2),
+            ([("open", 0, 0), ("close", 0), ("close", 0)], 2),
+            ([("open", 0, FAR - 1), ("tell", 0, FAR - 1, (1, 1))], 1),
+            ([("open", 0, FAR - 1), ("tell", 0, FAR - 1, (1,))], 2),
         ):
             self.assertEqual(kept_deeds(2, self.blocks(deeds)), deeds[:many])
         self.assertEqual(kept_deeds(1, self.blocks(self.DEEDS)), self.DEEDS[:2])

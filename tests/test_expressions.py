@@ -9,7 +9,8 @@ from guessedworlds.sources import expression_text, read_expression
 from tests.things import WITH_ONE, WITH_TWO, all_things, grown_expression, name, num, raised
 
 X, Y, C0 = name("x"), name("y"), name("c0")
-SIGNS = {"or": "or", "and": "and", "less": "<", "same": "=", "add": "+", "sub": "-", "mul": "*", "div": "/", "rest": "rest"}
+SIGNS = {"or": "or", "and": "and", "less": "<", "same": "=", "add": "+", "sub": "-", "mul": "*", "div": "/",
+         "rest": "rest"}
 LEVELS = (("or",), ("and",), ("less", "same"), ("add", "sub"), ("mul", "div", "rest"), ("not", "minus"))
 BRACKETS = ("draw", "press", "kind", "left", "top", "cell")
 
@@ -143,12 +144,16 @@ class Texts(unittest.TestCase):
     def test_by_hand(self):
         for expression, text in (
             (num(0), "0"), (num(-1), "-1"), (num(2 ** 31 - 1), "2147483647"), (num(-2 ** 31), "-2147483648"), (X, "x"),
-            (("draw", X), "draw(x)"), (("press", num(7)), "press(7)"), (("kind", X), "kind(x)"), (("left", X), "left(x)"),
+            (("draw", X), "draw(x)"), (("press", num(7)), "press(7)"), (("kind", X), "kind(x)"),
+            (("left", X), "left(x)"),
             (("top", ("add", X, Y)), "top(x + y)"), (("cell", ("or", X, Y), num(-3)), "cell(x or y, -3)"),
             (("not", X), "not x"), (("not", ("not", X)), "not not x"), (("not", ("minus", X)), "not -x"),
-            (("not", num(-2)), "not -2"), (("not", ("less", X, Y)), "not (x < y)"), (("not", ("draw", X)), "not draw(x)"),
-            (("minus", X), "-x"), (("minus", num(3)), "-(3)"), (("minus", num(-3)), "-(-3)"), (("minus", num(0)), "-(0)"),
-            (("minus", ("minus", X)), "-(-x)"), (("minus", ("not", X)), "-(not x)"), (("minus", ("cell", X, Y)), "-cell(x, y)"),
+            (("not", num(-2)), "not -2"), (("not", ("less", X, Y)), "not (x < y)"),
+            (("not", ("draw", X)), "not draw(x)"),
+            (("minus", X), "-x"), (("minus", num(3)), "-(3)"), (("minus", num(-3)), "-(-3)"),
+            (("minus", num(0)), "-(0)"),
+            (("minus", ("minus", X)), "-(-x)"), (("minus", ("not", X)), "-(not x)"),
+            (("minus", ("cell", X, Y)), "-cell(x, y)"),
             (("minus", ("add", X, Y)), "-(x + y)"), (("minus", ("draw", X)), "-draw(x)"),
             (("sub", X, num(-1)), "x - -1"), (("sub", num(-1), ("minus", X)), "-1 - -x"),
             (("sub", ("sub", X, Y), C0), "x - y - c0"), (("sub", X, ("sub", Y, C0)), "x - (y - c0)"),
@@ -167,7 +172,8 @@ class Texts(unittest.TestCase):
             for inner in ["number", "below", "name"] + WITH_ONE + WITH_TWO:
                 part = {"number": num(5), "below": num(-5), "name": Y}.get(inner) or (
                     (inner, X) if inner in WITH_ONE else (inner, X, Y))
-                both = [(outer, part)] if outer in WITH_ONE else [(outer, part, C0), (outer, C0, part), (outer, part, part)]
+                both = [(outer, part)] if outer in WITH_ONE else [(outer, part, C0), (outer, C0, part),
+                                                                  (outer, part, part)]
                 for expression in both:
                     text = expression_text(expression)
                     self.assertEqual(text, told_text(expression))
@@ -192,30 +198,38 @@ class Texts(unittest.TestCase):
         for _ in range(9):
             deep = ("not", deep)
         self.assertEqual(expression_text(deep), "not " * 9 + "x")
-        for thing in (("not", deep), num(2 ** 31), num(True), name("z"), ["not", X], ("not", X, X), ("set", "c0", X), None):
+        for thing in (("not", deep), num(2 ** 31), num(True), name("z"), ["not", X], ("not", X, X), ("set", "c0", X),
+                      None):
             self.assertEqual(raised(expression_text, thing), (NoExpression, {}))
 
 
 class Read(unittest.TestCase):
     def test_blanks(self):
         for text, expression in (
-            ("x+y", ("add", X, Y)), ("  x  +  y ", ("add", X, Y)), ("x-1", ("sub", X, num(1))), ("x -1", ("sub", X, num(1))),
-            ("x- 1", ("sub", X, num(1))), ("x--1", ("sub", X, num(-1))), ("- x", ("minus", X)), ("- ( x )", ("minus", X)),
-            ("not(x)", ("not", X)), ("not-x", ("not", ("minus", X))), ("(x)or(y)", ("or", X, Y)), ("x<y", ("less", X, Y)),
+            ("x+y", ("add", X, Y)), ("  x  +  y ", ("add", X, Y)), ("x-1", ("sub", X, num(1))),
+            ("x -1", ("sub", X, num(1))),
+            ("x- 1", ("sub", X, num(1))), ("x--1", ("sub", X, num(-1))), ("- x", ("minus", X)),
+            ("- ( x )", ("minus", X)),
+            ("not(x)", ("not", X)), ("not-x", ("not", ("minus", X))), ("(x)or(y)", ("or", X, Y)),
+            ("x<y", ("less", X, Y)),
             ("draw ( x )", ("draw", X)), ("cell(x,y)", ("cell", X, Y)), ("- draw(x)", ("minus", ("draw", X))),
-            ("1rest", None), ("xor y", None), ("x or3", None), ("notx", None), ("x y", None), ("1 2", None), ("- 1", None),
+            ("1rest", None), ("xor y", None), ("x or3", None), ("notx", None), ("x y", None), ("1 2", None),
+            ("- 1", None),
         ):
             self.assertEqual(read(text), expression)
 
     def test_needless_brackets(self):
         for text, expression in (
-            ("(x)", X), ("((x))+(((y)))", ("add", X, Y)), ("(-1)", num(-1)), ("((-(x)))", ("minus", X)), ("-(x)", ("minus", X)),
-            ("-((x))", ("minus", X)), ("draw((x))", ("draw", X)), ("cell((x),((y)))", ("cell", X, Y)), ("((x < y)) = x", None),
+            ("(x)", X), ("((x))+(((y)))", ("add", X, Y)), ("(-1)", num(-1)), ("((-(x)))", ("minus", X)),
+            ("-(x)", ("minus", X)),
+            ("-((x))", ("minus", X)), ("draw((x))", ("draw", X)), ("cell((x),((y)))", ("cell", X, Y)),
+            ("((x < y)) = x", None),
         ):
             expected = ("same", ("less", X, Y), X) if expression is None else expression
             self.assertEqual(read_expression(text), expected)
         self.assertEqual(read_expression("(" * 9999 + "x" + ")" * 9999), X)
-        for text in ("(" * 20000, ")" * 20000, "(" * 9999 + "x" + ")" * 9998, "()", "(x", "x)", "not " * 4999, "-(" * 10000,
+        for text in ("(" * 20000, ")" * 20000, "(" * 9999 + "x" + ")" * 9998, "()", "(x", "x)", "not " * 4999,
+                     "-(" * 10000,
                      "draw(" * 4000, "x+" * 9999, "x<" * 9999, "cell(" * 4000, "(x," * 5000):
             self.assertEqual(raised(read_expression, text), (BadText, {"line": 1}))
 
@@ -231,7 +245,8 @@ class Read(unittest.TestCase):
     def test_numbers(self):
         for text, number in (("0", 0), ("7", 7), ("-7", -7), ("2147483647", 2 ** 31 - 1), ("-2147483648", -2 ** 31)):
             self.assertEqual(read_expression(text), num(number))
-        for text in ("00", "07", "-07", "-0", "-00", "2147483648", "-2147483649", "1" * 5000, "-" + "9" * 5000, "1.5", "+1",
+        for text in ("00", "07", "-07", "-0", "-00", "2147483648", "-2147483649", "1" * 5000, "-" + "9" * 5000, "1.5",
+                     "+1",
                      "1e3", "0x1", "x - -0"):
             self.assertIsNone(read(text), text)
         self.assertEqual(read_expression("x-0"), ("sub", X, num(0)))
@@ -244,9 +259,12 @@ class Read(unittest.TestCase):
         self.assertEqual(read_expression("x - -y"), ("sub", X, ("minus", Y)))
 
     def test_what_is_none(self):
-        for text in ("", " ", "z", "X", "c4", "s8", "draw", "draw x", "draw()", "cell(x)", "cell(x, y, x)", "press(x, y)", "x(y)",
-                     "x,", ",", "x, y", "x +", "+ x", "x + + y", "x == y", "x > y", "x and", "x\n", "\nx", "x ! y", "x & y",
-                     "not(x", "1(x)", "or", "c0c1", "x not y", "tick tick", "add(x, y)", "x rest", "(x)(y)", "~", "x;", "x'"):
+        for text in ("", " ", "z", "X", "c4", "s8", "draw", "draw x", "draw()", "cell(x)", "cell(x, y, x)",
+                     "press(x, y)", "x(y)",
+                     "x,", ",", "x, y", "x +", "+ x", "x + + y", "x == y", "x > y", "x and", "x\n", "\nx", "x ! y",
+                     "x & y",
+                     "not(x", "1(x)", "or", "c0c1", "x not y", "tick tick", "add(x, y)", "x rest", "(x)(y)", "~",
+                     "x;", "x'"):
             self.assertEqual(raised(read_expression, text), (BadText, {"line": 1}), text)
 
     def test_too_deep_and_too_great(self):
@@ -267,7 +285,8 @@ class Read(unittest.TestCase):
 
     def test_against_another_reading(self):
         chance = random.Random(202)
-        tokens = ["x", "y", "c0", "1", "0", "12", "not", "-", "-", "(", "(", ")", ")", "+", "*", "/", "rest", "<", "=", "and",
+        tokens = ["x", "y", "c0", "1", "0", "12", "not", "-", "-", "(", "(", ")", ")", "+", "*", "/", "rest", "<",
+                  "=", "and",
                   "or", "draw(", "cell(", ",", "3", "press", "-7"]
         right = 0
         for _ in range(20000):

@@ -7,7 +7,8 @@ import pathlib
 import unittest
 
 from guessedworlds import (
-    books, branches, changes, codes, desks, disks, errors, folding, games, gametexts, grounds, hosts, inputrows, letters,
+    books, branches, changes, codes, desks, disks, errors, folding, games, gametexts, grounds, hosts, inputrows,
+    letters,
     machines, marks, moves, nets, numbers, peers, pictures, programs, reels, replays, rows, runs, savings, sources,
     standings, ticks, timelines, worldrows, worlds,
 )
@@ -61,7 +62,8 @@ INTERFACE = {
     peers: {"Peer": ["game", "seed", "match", "place", "seat", "rules", "past"]},
     nets: {"Net": ["game", "seed", "match", "rules"], "led": ["net", "deeds"], "round_trip": ["net"]},
     sources: {
-        "expression_text": ["expression"], "source_of": ["program"], "read_expression": ["text"], "read_source": ["text"],
+        "expression_text": ["expression"], "source_of": ["program"], "read_expression": ["text"],
+        "read_source": ["text"],
     },
     gametexts: {"game_text": ["game"], "read_game": ["text"], "game_mark": ["game"]},
     pictures: {

@@ -13,10 +13,11 @@ from tests.growing import MEADOW, grown_game
 from tests.things import all_things, raised
 
 WALK = Program({"tick": (("set", "dx", ("number", 2)),), "wall": ()})
-GAME = Game(2, Ground(("....", "#9##")), (Kind(8, 3, True, -4, WALK), Kind(32, 1, False, 0, None), Kind(1, 1, True, 0, Program({}))),
-            ((0, 0, 5, -1), (2, 31, 0, 1)))
-ROWS = ["players 2", "ground", "....", "#9##", "end", "kind 8 3 solid -4", "program", "on tick", "  dx = 2", "end", "on wall", "end",
-        "end", "kind 32 1 thin 0", "kind 1 1 solid 0", "program", "end", "birth 0 0 5 -1", "birth 2 31 0 1"]
+KINDS = (Kind(8, 3, True, -4, WALK), Kind(32, 1, False, 0, None), Kind(1, 1, True, 0, Program({})))
+GAME = Game(2, Ground(("....", "#9##")), KINDS, ((0, 0, 5, -1), (2, 31, 0, 1)))
+ROWS = ["players 2", "ground", "....", "#9##", "end", "kind 8 3 solid -4", "program", "on tick", "  dx = 2", "end",
+        "on wall", "end", "end", "kind 32 1 thin 0", "kind 1 1 solid 0", "program", "end", "birth 0 0 5 -1",
+        "birth 2 31 0 1"]
 
 
 def lines(rows):
@@ -42,16 +43,20 @@ class Texts(unittest.TestCase):
             self.assertEqual(read_game(game_text(game)), game)
 
     def test_what_is_nothing(self):
-        rows = ["! a game", " players   2 ", "", "  ground  "] + ROWS[2:4] + ["  end  ", "kind  8 3  solid -4", "!", "  program"]
-        rows += ["on tick", "dx=(2)", " end", "", "  on   wall", "end", "end "] + ROWS[13:15] + ["", "program", "! x", "end"]
+        rows = ["! a game", " players   2 ", "", "  ground  ", *ROWS[2:4], "  end  "]
+        rows += ["kind  8 3  solid -4", "!", "  program"]
+        rows += ["on tick", "dx=(2)", " end", "", "  on   wall", "end", "end ", *ROWS[13:15]]
+        rows += ["", "program", "! x", "end"]
         rows += ["birth 0 0 5 -1", "", "birth  2  31 0 1 ", "! end"]
         for text in (lines(rows), lines(rows)[:-1], lines(rows) + "\n \n"):
             self.assertEqual(read_game(text), GAME)
 
     def test_rows_of_the_ground_are_taken_as_they_stand(self):
         for rows, part in (
-            (("....", "!..."), 1), (("....", " ..."), 1), (("....", ""), 1), (("kind 8 3 solid -4",), 0), (("ground",), 0),
-            (("players 2", "...."), 0), (("....", ".... "), 1), (("", "...."), 0), (("! x",), 0), (("birth 0 0 5 -1",), 0),
+            (("....", "!..."), 1), (("....", " ..."), 1), (("....", ""), 1), (("kind 8 3 solid -4",), 0),
+            (("ground",), 0),
+            (("players 2", "...."), 0), (("....", ".... "), 1), (("", "...."), 0), (("! x",), 0),
+            (("birth 0 0 5 -1",), 0),
             ((), -1), ((".",) * 31, -1),
         ):
             text = lines(["players 2", "ground", *rows, "  end ", *ROWS[5:]])
@@ -93,13 +98,17 @@ class Wrong(unittest.TestCase):
 
     def test_lines_that_have_none_of_the_forms(self):
         for at, rows in (
-            (0, ("players", "players 2 2", "player 2", "players two", "players -1", "players 02", "players +2", "ground", "Players 2")),
+            (0, ("players", "players 2 2", "player 2", "players two", "players -1", "players 02", "players +2",
+                 "ground", "Players 2")),
             (1, ("ground x", "grounds", "players 2", "kind 8 3 solid -4")),
-            (5, ("kind 8 3 solid", "kind 8 3 solid -4 1", "kind 8 3 firm 0", "kind 8 3 Solid 0", "kind -8 3 solid 0", "kind x 3 solid 0",
-                 "kind 8 3 solid -0", "kind 8 3 solid 00", "kind 08 3 solid 0", "kind 8 03 solid 0", "kind 8 3 solid - 4", "kinds", "kind 8 3 solid -",
+            (5, ("kind 8 3 solid", "kind 8 3 solid -4 1", "kind 8 3 firm 0", "kind 8 3 Solid 0", "kind -8 3 solid 0",
+                 "kind x 3 solid 0",
+                 "kind 8 3 solid -0", "kind 8 3 solid 00", "kind 08 3 solid 0", "kind 8 03 solid 0",
+                 "kind 8 3 solid - 4", "kinds", "kind 8 3 solid -",
                  "kind 8 3 solid --4", "kind 8 3 solid +4", "kind 8 3 thin 4.0", "end", "program", "gone", "on tick")),
             (6, ("program x", "programs", "on tick")), (8, ("dx = ", "walk", "kind 1 1 thin 0", "on touch")),
-            (17, ("birth 0 0 5", "birth 0 0 5 -1 0", "birth -1 0 5 -1", "birth 0 0 5 -01", "birth 0 -0 5 -1", "birth 0 x 5 -1", "births",
+            (17, ("birth 0 0 5", "birth 0 0 5 -1 0", "birth -1 0 5 -1", "birth 0 0 5 -01", "birth 0 -0 5 -1",
+                  "birth 0 x 5 -1", "births",
                   "birth 00 0 5 -1", "gone")),
         ):
             for row in rows:
@@ -122,7 +131,8 @@ class Wrong(unittest.TestCase):
         twenty, more = "9" * 20, "1" + "0" * 20
         for at, row, error in (
             (0, "players {}", (BadGame, {"part": "players"})), (5, "kind {} 3 solid -4", (BadKind, {"part": "wide"})),
-            (5, "kind 8 {} solid -4", (BadKind, {"part": "high"})), (5, "kind 8 3 solid {}", (BadKind, {"part": "pull"})),
+            (5, "kind 8 {} solid -4", (BadKind, {"part": "high"})),
+            (5, "kind 8 3 solid {}", (BadKind, {"part": "pull"})),
             (5, "kind 8 3 solid -{}", (BadKind, {"part": "pull"})), (17, "birth {} 0 5 -1", (BadGame, {"part": 0})),
             (17, "birth 0 {} 5 -1", (BadGame, {"part": 0})), (17, "birth 0 -{} 5 -1", (BadGame, {"part": 0})),
             (17, "birth 0 0 {} -1", (BadGame, {"part": 0})), (18, "birth 2 31 0 -{}", (BadGame, {"part": 1})),
@@ -132,7 +142,8 @@ class Wrong(unittest.TestCase):
             self.bad(at + 1, put(at, row.format("9" * 5000)))
 
     def test_errors_one_behind_the_other(self):
-        worst = lines(["players 9", "ground", "x", "end", "kind 0 1 thin 0", "program", "on tick", *["gone"] * 51, "end", "end",
+        worst = lines(["players 9", "ground", "x", "end", "kind 0 1 thin 0", "program", "on tick", *["gone"] * 51,
+                       "end", "end",
                        "kind 1 40 thin 0", "birth 9 0 0 0"])
         rows = worst.split("\n")[:-1]
         self.bad(len(rows) + 1, lines([*rows, "x"]))

@@ -219,7 +219,8 @@ class Deeds(unittest.TestCase):
         self.net.deed(("fall", 2, 10))
         far = Game(2, MEADOW.ground, MEADOW.kinds, ())
         alike = Game(2, MEADOW.ground, MEADOW.kinds, MEADOW.births)
-        self.refused(("place", 2, Peer(MEADOW, SEED, MATCH, 2, 1, RULES, None)), ("place", 1, other), ("place", 8, peer),
+        self.refused(("place", 2, Peer(MEADOW, SEED, MATCH, 2, 1, RULES, None)), ("place", 1, other),
+                     ("place", 8, peer),
                      ("place", 1, Peer(far, SEED, MATCH, 1, 1, RULES, None)), ("place", 1, None), ("place", 1, Host),
                      ("place", 1, Peer(MEADOW, SEED, MATCH + 1, 1, 1, RULES, None)), ("place", True, peer),
                      ("place", 1, self.net.host()), ("place", 1), ("place", None, peer))
@@ -233,7 +234,8 @@ class Deeds(unittest.TestCase):
         self.net.deed(("host", saved))
         self.assertIs(self.net.host(), saved)
         far = Game(2, MEADOW.ground, MEADOW.kinds, ())
-        self.refused(("host", Host(far, SEED, MATCH, None)), ("host", Host(MEADOW, SEED, MATCH + 1, None)), ("host", None),
+        self.refused(("host", Host(far, SEED, MATCH, None)), ("host", Host(MEADOW, SEED, MATCH + 1, None)),
+                     ("host", None),
                      ("host", self.net.peer(1)), ("host",), ("host", Host), ("host", host, host))
 
     def test_saved_ones_do_all_deeds(self):
@@ -256,11 +258,14 @@ class Deeds(unittest.TestCase):
         number = is_from(0, 2 ** 32 - 1)
         self.net.deed(("send", 1, (1,)))
         for deed, at, fits in (
-            (("press", 1, 5), 1, is_from(1, 3)), (("press", 1, 5), 2, is_from(0, 255)), (("advance", 1), 1, is_from(1, 3)),
+            (("press", 1, 5), 1, is_from(1, 3)), (("press", 1, 5), 2, is_from(0, 255)),
+            (("advance", 1), 1, is_from(1, 3)),
             (("spoil", 0, 0, 0), 1, is_from(0, 0)), (("spoil", 0, 0, 0), 2, is_from(0, 0)),
-            (("spoil", 0, 0, 0), 3, is_from(0, 255)), (("post", 1), 1, is_from(1, 3)), (("place", 1, 0), 2, lambda thing: False),
+            (("spoil", 0, 0, 0), 3, is_from(0, 255)), (("post", 1), 1, is_from(1, 3)),
+            (("place", 1, 0), 2, lambda thing: False),
             (("host", 0), 1, lambda thing: False), (("forget", 0), 1, is_from(0, 0)), (("leave", 3), 1, is_from(1, 3)),
-            (("rise", 1), 1, is_from(1, 3)), (("send", 1, ()), 1, lambda thing: number(thing) or is_from(-1, -1)(thing)),
+            (("rise", 1), 1, is_from(1, 3)), (("send", 1, ()), 1,
+                                              lambda thing: number(thing) or is_from(-1, -1)(thing)),
             (("join", 9, 0), 1, lambda thing: number(thing) and thing not in (1, 2, 3)),
         ):
             only_named(self, lambda thing: self.net.deed(with_part(deed, at, thing)), (NoDeed, {}), fits)
@@ -280,7 +285,8 @@ class Led(unittest.TestCase):
 
     def test_bad_deeds(self):
         net = net_with()
-        for at, deeds in ((0, [("advance", 1)]), (1, [("join", 1, 0), ("advance", 2)]), (2, (("open", 0), ("open", 1), 5))):
+        for at, deeds in ((0, [("advance", 1)]), (1, [("join", 1, 0), ("advance", 2)]),
+                          (2, (("open", 0), ("open", 1), 5))):
             self.assertEqual(raised(led, net, deeds), (BadDeeds, {"index": at}))
         # Those ahead are done.
         self.assertEqual((net.places(), net.host().book().deeds()), ((1,), [("open", 0, 0), ("open", 1, 0)]))

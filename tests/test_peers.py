@@ -72,8 +72,10 @@ class Made(unittest.TestCase):
     def test_things_in_the_place_of_each_argument(self):
         seat = lambda thing: thing is None or is_from(0, 1)(thing)
         only_named(self, lambda thing: Peer(MEADOW, thing, 0, 0, 0, RULES, None), (NoSeed, {}), is_from(1, 2 ** 31 - 2))
-        only_named(self, lambda thing: Peer(MEADOW, 1, thing, 0, 0, RULES, None), (NoNumber, {}), is_from(0, 2 ** 32 - 1))
-        only_named(self, lambda thing: Peer(MEADOW, 1, 0, thing, 0, RULES, None), (NoNumber, {}), is_from(0, 2 ** 32 - 1))
+        only_named(self, lambda thing: Peer(MEADOW, 1, thing, 0, 0, RULES, None), (NoNumber, {}),
+                   is_from(0, 2 ** 32 - 1))
+        only_named(self, lambda thing: Peer(MEADOW, 1, 0, thing, 0, RULES, None), (NoNumber, {}),
+                   is_from(0, 2 ** 32 - 1))
         only_named(self, lambda thing: Peer(MEADOW, 1, 0, 0, thing, RULES, None), (NoSeat, {}), seat)
         only_named(self, lambda thing: peer(rules=thing), (NoRules, {}), lambda thing: False)
         only_named(self, lambda thing: peer(past=thing), (NoPast, {}), lambda thing: thing is None)
@@ -119,7 +121,8 @@ class Pasts(unittest.TestCase):
         ):
             self.can_be(self.with_seat(seat, base))
         for base, seat in (
-            (0, ("waiting", 1, 0, ())), (0, ("waiting", 0, 1, ())), (0, ("waiting", 0, 0, (1,))), (5, ("open", 3, 3, ())),
+            (0, ("waiting", 1, 0, ())), (0, ("waiting", 0, 1, ())), (0, ("waiting", 0, 0, (1,))),
+            (5, ("open", 3, 3, ())),
             (5, ("open", 3, 6, ())), (5, ("open", 8, 5, ())), (0, ("open", 3, 4, ())), (0, ("closed", 3, 0, ())),
             (0, ("open", -1, 0, ())), (0, ("open", FAR + 1, FAR + 1, ())), (0, ("open", FAR, FAR, (1,))),
             (0, ("open", 1, 1, (7,) * FAR)), (0, ("open", 0, 0, (256,))), (0, ("open", 0, 0, [])), (0, ("open", 0, 0)),

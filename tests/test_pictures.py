@@ -79,8 +79,10 @@ class Cut(unittest.TestCase):
     def test_at_over_and_beyond_each_edge(self):
         for arguments, text in (
             ((0, 0, 3, 3), PICTURE), ((1, 1, 1, 1), "e\n"), ((1, 0, 1, 3), "def\n"), ((0, 2, 2, 1), "c\nf\n"),
-            ((-1, -1, 3, 3), "   \n ab\n de\n"), ((2, 2, 2, 2), "i \n  \n"), ((2, -2, 1, 3), "  g\n"), ((-1, 2, 2, 2), "  \nc \n"),
-            ((3, 0, 1, 2), "  \n"), ((0, 3, 2, 1), " \n \n"), ((9999, -9999, 1, 2), "  \n"), ((-9999, 9999, 2, 1), " \n \n"),
+            ((-1, -1, 3, 3), "   \n ab\n de\n"), ((2, 2, 2, 2), "i \n  \n"), ((2, -2, 1, 3), "  g\n"),
+            ((-1, 2, 2, 2), "  \nc \n"),
+            ((3, 0, 1, 2), "  \n"), ((0, 3, 2, 1), " \n \n"), ((9999, -9999, 1, 2), "  \n"),
+            ((-9999, 9999, 2, 1), " \n \n"),
             ((0, 0, 100, 1), "a\nd\ng\n" + " \n" * 97), ((2, 1, 1, 100), "hi" + " " * 98 + "\n"),
         ):
             self.assertEqual(cut_out(PICTURE, *arguments), text)
@@ -97,7 +99,8 @@ class Cut(unittest.TestCase):
 
 
 class Pictures(unittest.TestCase):
-    NONE = ("", "\n", "a", "ab\na\n", "a\nab\n", "\n\n", "a\n\n", "\na\n", "ab\ncd", "a\tb\n", "\x7f\n", "a\n\nb\n", "\x1f\n", "a\r\n")
+    NONE = ("", "\n", "a", "ab\na\n", "a\nab\n", "\n\n", "a\n\n", "\na\n", "ab\ncd", "a\tb\n", "\x7f\n", "a\n\nb\n",
+            "\x1f\n", "a\r\n")
 
     def test_no_picture(self):
         right = ("a\n", " \n", "~\n", " ~\n~ \n", "a" * 500 + "\n")
@@ -126,22 +129,27 @@ class Pictures(unittest.TestCase):
 
     def test_no_changes(self):
         for thing in (
-            [], [(0, 0, "x")], ((3, 0, "x"),), ((0, 3, "x"),), ((-1, 0, "x"),), ((0, -1, "x"),), ((0, 0, ""),), ((0, 0, "xy"),),
-            ((0, 0, "\n"),), ((0, 0, "\t"),), ((0, 0, "\x7f"),), ((0, 0),), ((0, 0, "x", 1),), ([0, 0, "x"],), ((True, 0, "x"),),
-            ((0, False, "x"),), ((0, 0, b"x"),), ((0, 0, None),), ((0, 0, "x"), None), (0, 0, "x"), None, ((0, 0, "x"), (0, 9, "x")),
+            [], [(0, 0, "x")], ((3, 0, "x"),), ((0, 3, "x"),), ((-1, 0, "x"),), ((0, -1, "x"),), ((0, 0, ""),),
+            ((0, 0, "xy"),),
+            ((0, 0, "\n"),), ((0, 0, "\t"),), ((0, 0, "\x7f"),), ((0, 0),), ((0, 0, "x", 1),), ([0, 0, "x"],),
+            ((True, 0, "x"),),
+            ((0, False, "x"),), ((0, 0, b"x"),), ((0, 0, None),), ((0, 0, "x"), None), (0, 0, "x"), None,
+            ((0, 0, "x"), (0, 9, "x")),
         ):
             self.assertEqual(raised(redrawn, PICTURE, thing), (NoChanges, {}))
         only_named(self, lambda thing: redrawn(PICTURE, thing), (NoChanges, {}), lambda thing: thing == ())
         for at in range(3):
             put = lambda thing: redrawn(PICTURE, (with_part((0, 0, "x"), at, thing),))
-            fits = (is_from(0, 2), is_from(0, 2), lambda thing: isinstance(thing, str) and len(thing) == 1 and thing != "\n")[at]
+            fits = (is_from(0, 2), is_from(0, 2),
+                    lambda thing: isinstance(thing, str) and len(thing) == 1 and thing != "\n")[at]
             only_named(self, put, (NoChanges, {}), fits)
 
     def test_the_fact_of_pictures(self):
         chance = random.Random(232)
         for _ in range(300):
             wide, high = chance.randrange(1, 9), chance.randrange(1, 9)
-            one, other = ["".join(["".join(chance.choices(" a~", k=wide)) + "\n" for _ in range(high)]) for _ in range(2)]
+            one, other = ["".join(["".join(chance.choices(" a~",
+                                                          k=wide)) + "\n" for _ in range(high)]) for _ in range(2)]
             found = changes(one, other)
             self.assertEqual(redrawn(one, found), other)
             self.assertEqual(list(found), sorted(set(found)))

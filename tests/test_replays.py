@@ -34,7 +34,8 @@ class Made(unittest.TestCase):
         alike = Game(2, MEADOW.ground, MEADOW.kinds, MEADOW.births)
         self.assertEqual(one, Replay(alike, 7, 3, TURNS))
         for other in (Replay(Game(2, MEADOW.ground, MEADOW.kinds, ()), 7, 3, TURNS), Replay(MEADOW, 8, 3, TURNS),
-                      Replay(MEADOW, 7, 4, TURNS), Replay(MEADOW, 7, 3, TURNS[:-1]), Replay(MEADOW, 7, 3, ()), *all_things()):
+                      Replay(MEADOW, 7, 4, TURNS), Replay(MEADOW, 7, 3, TURNS[:-1]), Replay(MEADOW, 7, 3, ()),
+                      *all_things()):
             self.assertNotEqual(one, other)
             self.assertNotEqual(other, one)
 
@@ -44,7 +45,8 @@ class Made(unittest.TestCase):
         self.assertEqual(raised(Replay, MEADOW, 1, 1, None), (BadTurns, {"index": -1}))
         only_named(self, lambda thing: Replay(MEADOW, thing, 1, ()), (NoSeed, {}), is_from(1, 2 ** 31 - 2))
         only_named(self, lambda thing: Replay(MEADOW, 1, thing, ()), (NoNumber, {}), is_from(1, 512))
-        for every, expected in ((0, (NoNumber, {})), (1, None), (512, None), (513, (NoNumber, {})), (True, (NoNumber, {}))):
+        for every, expected in ((0, (NoNumber, {})), (1, None), (512, None), (513, (NoNumber, {})),
+                                (True, (NoNumber, {}))):
             self.assertEqual(raised(Replay, MEADOW, 1, every, ()), expected)
 
     def test_bad_turns(self):
@@ -69,7 +71,8 @@ class OfBooks(unittest.TestCase):
         for deeds, turns in (
             ([], ()), ([("open", 0, 0), ("tell", 0, 0, (1, 2))], ((1, 0), (2, 0))),
             ([("open", 1, 3), ("tell", 1, 3, (5,))], ((0, 0), (0, 0), (0, 0), (0, 5))),
-            ([("open", 0, 0), ("tell", 0, 0, (1, 2)), ("open", 1, 2), ("close", 0), ("tell", 1, 2, (7,))], ((1, 0), (2, 0), (0, 7))),
+            ([("open", 0, 0), ("tell", 0, 0, (1, 2)), ("open", 1, 2), ("close", 0), ("tell", 1, 2, (7,))],
+             ((1, 0), (2, 0), (0, 7))),
             ([("open", 0, 0), ("open", 1, 0), ("tell", 0, 0, (1, 2)), ("tell", 1, 0, (9,))], ((1, 9),)),
             ([("open", 0, 0), ("open", 1, 0), ("tell", 0, 0, (1, 2)), ("close", 1), ("close", 0)], ((1, 0), (2, 0))),
         ):
@@ -92,7 +95,8 @@ class OfBooks(unittest.TestCase):
         for many, expected in ((MOST - 1, None), (MOST, None), (MOST + 1, (BadTurns, {"index": MOST}))):
             book = rebuilt(2, [("open", 0, 0), ("tell", 0, 0, (3,) * many)])
             self.assertEqual(raised(replay_of, MEADOW, 7, 5, book), expected)
-        self.assertEqual(raised(replay_of, MEADOW, 7, 5, rebuilt(2, [("open", 0, 100000)])), (BadTurns, {"index": MOST}))
+        self.assertEqual(raised(replay_of, MEADOW, 7, 5, rebuilt(2, [("open", 0, 100000)])),
+                         (BadTurns, {"index": MOST}))
 
 
 class Marks(unittest.TestCase):
@@ -105,7 +109,8 @@ class Marks(unittest.TestCase):
 
 class Rows(unittest.TestCase):
     def test_part_by_part(self):
-        for game, turns, every in ((MEADOW, TURNS, 2), (MEADOW, (), 1), (SMALL, ((3,),) * 300, 512), (SMALL, ((3,), (4,)) * 40, 7)):
+        for game, turns, every in ((MEADOW, TURNS, 2), (MEADOW, (), 1), (SMALL, ((3,),) * 300, 512),
+                                   (SMALL, ((3,), (4,)) * 40, 7)):
             replay = Replay(game, 7, every, turns)
             row = whole(game_mark(game)) + whole(7) + whole(every) + whole(len(turns))
             for player in range(game.players):
@@ -160,7 +165,8 @@ class Rows(unittest.TestCase):
     def test_numbers_that_can_not_be(self):
         row = replay_row(Replay(MEADOW, 7, 2, TURNS))
         one, two, three, four, five = self.places(row)[:5]
-        for place, behind, numbers in ((one, two, ()), (two, three, (0, 2 ** 31 - 1, 2 ** 63)), (three, four, (0, 513, 2 ** 63)),
+        for place, behind, numbers in ((one, two, ()), (two, three, (0, 2 ** 31 - 1, 2 ** 63)),
+                                       (three, four, (0, 513, 2 ** 63)),
                                        (four, five, (4097, 2 ** 63))):
             for number in numbers:
                 self.bad(place, row[:place] + whole(number) + row[behind:])
@@ -175,7 +181,8 @@ class Rows(unittest.TestCase):
             self.bad(second, row[:second] + input_row(inputs) + row[third:])
         for many in (4, 6):
             self.bad(first, row[:places[3]] + whole(many) + row[first:])
-        for wrong, place in (((2, 1, 2, 1, 3), 3), ((1, 1, 0), 1), ((1, 256 - 1, 129, 0), 2), ((1, 1, *whole(100001)), 1), ((130, 0), 0)):
+        for wrong, place in (((2, 1, 2, 1, 3), 3), ((1, 1, 0), 1), ((1, 256 - 1, 129, 0), 2),
+                             ((1, 1, *whole(100001)), 1), ((130, 0), 0)):
             self.bad(first + place, row[:first] + wrong + row[second:])
             self.bad(second + place, row[:second] + wrong + row[third:])
 

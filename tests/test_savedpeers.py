@@ -77,7 +77,8 @@ class PastRows(unittest.TestCase):
 
     def test_there_and_back(self):
         most = 2 ** 32 - 1
-        for past in (*PASTS, ((), (WAITING, WAITING), (0, ())), ((7,) * 300, (("open", most, most, (255,)),) * 2, (most, (1,) * FAR)),
+        for past in (*PASTS, ((), (WAITING, WAITING), (0, ())),
+                     ((7,) * 300, (("open", most, most, (255,)),) * 2, (most, (1,) * FAR)),
                      (ROW, (("closed", 5, 3, ()), ("open", 1, 0, (1,) * 1000)), (5, ()))):
             self.assertEqual(read_past(MEADOW, past_row(past)), past)
         for players in (1, 4):
@@ -88,12 +89,17 @@ class PastRows(unittest.TestCase):
     def test_no_past(self):
         seat = ("open", 0, 0, (1,))
         for past in (
-            (), NEW[:2], NEW + (0,), list(NEW), with_part(NEW, 0, [1]), with_part(NEW, 0, (256,)), with_part(NEW, 1, ()),
-            with_part(NEW, 1, (WAITING,) * 5), with_part(NEW, 1, [WAITING]), with_part(NEW, 1, (None,)), with_part(NEW, 2, ()),
-            with_part(NEW, 2, (0,)), with_part(NEW, 2, [0, ()]), with_part(NEW, 2, (0, [])), with_part(NEW, 2, (-1, ())),
-            with_part(NEW, 2, (2 ** 32, ())), with_part(NEW, 2, (True, ())), with_part(NEW, 2, (0, (256,))), None, "past",
+            (), NEW[:2], NEW + (0,), list(NEW), with_part(NEW, 0, [1]), with_part(NEW, 0, (256,)),
+            with_part(NEW, 1, ()),
+            with_part(NEW, 1, (WAITING,) * 5), with_part(NEW, 1, [WAITING]), with_part(NEW, 1, (None,)),
+            with_part(NEW, 2, ()),
+            with_part(NEW, 2, (0,)), with_part(NEW, 2, [0, ()]), with_part(NEW, 2, (0, [])),
+            with_part(NEW, 2, (-1, ())),
+            with_part(NEW, 2, (2 ** 32, ())), with_part(NEW, 2, (True, ())), with_part(NEW, 2, (0, (256,))), None,
+            "past",
             *[with_part(NEW, 1, (with_part(seat, at, thing), WAITING)) for at, thing in (
-                (0, "shut"), (0, None), (1, -1), (1, 2 ** 32), (1, None), (2, 2 ** 32), (2, True), (3, [1]), (3, (True,)),
+                (0, "shut"), (0, None), (1, -1), (1, 2 ** 32), (1, None), (2, 2 ** 32), (2, True), (3, [1]),
+                (3, (True,)),
                 (3, (1,) * (FAR + 1)))],
             with_part(NEW, 1, (seat[:3],)), with_part(NEW, 1, (seat + (0,),)), with_part(NEW, 1, (list(seat),)),
         ):
@@ -145,7 +151,8 @@ class Made(unittest.TestCase):
         self.assertEqual((peer.base(), peer.settled(), peer.shown_tick()), (3, 3, 3))
 
     def test_on_one_that_does_not_begin_so(self):
-        for first in (begin()[:-1], (), begin() + (0,), record((4, 1, 1, 1)), record((4, 1, 1, 1, 0, 0)), record((0, 1, 1, 1)),
+        for first in (begin()[:-1], (), begin() + (0,), record((4, 1, 1, 1)), record((4, 1, 1, 1, 0, 0)),
+                      record((0, 1, 1, 1)),
                       record((0, 1, 1, 1, 1)), record((5, 0)), (7,), BLOCKS[1], record((4, 128, 0, 1, 1, 1))):
             disk = disk_of(first, *BLOCKS[1:], waiting=2)
             self.assertEqual(peer_of(disk).past(), NEW)
@@ -166,7 +173,8 @@ class Made(unittest.TestCase):
         for at, block in (
             (1, learnt(1, NEW, ONE)), (2, learnt(0, ONE, TWO)), (2, learnt(2, ONE, TWO)), (3, learnt(1, TWO, THREE)),
             (1, learnt(0, NEW, far)), (1, learnt(0, NEW, own)), (1, learnt(0, NEW, short)), (1, learnt(0, NEW, world)),
-            (2, learnt(1, NEW, ONE)[:-1]), (2, ()), (2, record((5, 1))), (2, record((6, 1, 3))), (2, record((5,))), (2, BLOCKS[1]),
+            (2, learnt(1, NEW, ONE)[:-1]), (2, ()), (2, record((5, 1))), (2, record((6, 1, 3))), (2, record((5,))),
+            (2, BLOCKS[1]),
             (2, record((5, 1, 255))), (2, record((5, 129, 0, *change(past_row(ONE), past_row(TWO))))), (2, begin()),
             (2, record((5, 1, 2, 1, 1))), (1, record((5, 0, *change(past_row(NEW), past_row(ONE)[:-1])))),
         ):
@@ -191,7 +199,8 @@ class Made(unittest.TestCase):
         calls = [
             ((0, None, -1, 2, (), 5), NoSeed), ((1, None, -1, 2, (), 5), NoNumber), ((1, 0, -1, 2, (), 5), NoNumber),
             ((1, 0, 0, 2, (), 5), NoSeat), ((1, 0, 0, 1, (), 5), NoRules), ((1, 0, 0, 1, RULES, 5), NoDisk),
-            ((1, 0, 0, 1, RULES, None), NoDisk), ((1, 0, 0, 1, RULES, other), OtherMatch), ((1, 0, 0, 1, (), other), NoRules),
+            ((1, 0, 0, 1, RULES, None), NoDisk), ((1, 0, 0, 1, RULES, other), OtherMatch),
+            ((1, 0, 0, 1, (), other), NoRules),
         ]
         for arguments, error in calls:
             self.assertEqual(raised(SavedPeer, MEADOW, *arguments), (error, {}))
@@ -204,7 +213,8 @@ class Made(unittest.TestCase):
         seat = lambda thing: thing is None or is_from(0, 1)(thing)
         disks = lambda thing: isinstance(thing, Disk)
         for at, error, fits in (
-            (0, NoSeed, is_from(1, 2 ** 31 - 2)), (1, NoNumber, is_from(0, 2 ** 32 - 1)), (2, NoNumber, is_from(0, 2 ** 32 - 1)),
+            (0, NoSeed, is_from(1, 2 ** 31 - 2)), (1, NoNumber, is_from(0, 2 ** 32 - 1)),
+            (2, NoNumber, is_from(0, 2 ** 32 - 1)),
             (3, NoSeat, seat), (4, NoRules, lambda thing: False), (5, NoDisk, disks),
         ):
             only_named(self, lambda thing: made(at, thing), (error, {}), fits)
@@ -265,7 +275,8 @@ class Writing(unittest.TestCase):
                 heard = ToldPeer(MEADOW, 5, 0, RULES, other.past()).say()[3]
                 letters = [growing.telling(heard)] + growing.pieces(other.settled() + chance.randrange(9))
                 call, arguments = chance.choice((
-                    ("press", (chance.choice((0, 9, 255, 256, None)),)), ("advance", ()), ("advance", ()), ("waits", ()),
+                    ("press", (chance.choice((0, 9, 255, 256, None)),)), ("advance", ()), ("advance", ()),
+                    ("waits", ()),
                     ("leave", ()) if chance.randrange(20) == 0 else ("own", ()), ("forget", (chance.randrange(60),)),
                     ("hear", (rowed(chance.choice(letters), 2),)), ("hear", (rowed(letters[0], 2),)), ("say", ()),
                     ("inputs", (chance.randrange(60),)),
@@ -275,7 +286,8 @@ class Writing(unittest.TestCase):
                     outcome = raised(getattr(peer, call), *arguments) if call in ("press", "forget", "inputs") else None
                     outcomes.append(outcome or getattr(peer, call)(*arguments))
                 self.assertEqual(outcomes[0], outcomes[1])
-                for name in ("settled", "shown_tick", "base", "waits", "own", "past", "shown", "settled_world", "apart", "worked"):
+                for name in ("settled", "shown_tick", "base", "waits", "own", "past", "shown", "settled_world",
+                             "apart", "worked"):
                     self.assertEqual(getattr(one, name)(), getattr(other, name)(), name)
             one.store()
             self.assertEqual(peer_of(disk).past(), one.past())
@@ -292,7 +304,8 @@ class Writing(unittest.TestCase):
     def test_errors_change_nothing(self):
         self.peer.hear(tell(("open", 0, 2, 0, (1, 2)), None))
         past = self.peer.past()
-        for call, argument, error in ((self.peer.press, 256, NoInputs), (self.peer.forget, 3, NoTick), (self.peer.inputs, 2, NoTick)):
+        for call, argument, error in ((self.peer.press, 256, NoInputs), (self.peer.forget, 3, NoTick),
+                                      (self.peer.inputs, 2, NoTick)):
             self.assertEqual(raised(call, argument), (error, {}))
         for thing in all_things():
             self.assertEqual(self.peer.hear(thing), "none")

@@ -64,15 +64,18 @@ class Made(unittest.TestCase):
             self.assertEqual(host.store(), 0)
 
     def test_on_one_that_does_not_begin_so(self):
-        for first in (begin()[:-1], (), begin() + (0,), begin()[1:], record((0, 1, 1)), record(()), record((0, 1, 1, 1, 1)),
-                      record((1, *begin()[2:])), record((4, 1, 1, 1)), record((4, 1, 1, 1, 1)), record((0, 128, 0, 1, 1)), (7,),
+        for first in (begin()[:-1], (), begin() + (0,), begin()[1:], record((0, 1, 1)), record(()),
+                      record((0, 1, 1, 1, 1)),
+                      record((1, *begin()[2:])), record((4, 1, 1, 1)), record((4, 1, 1, 1, 1)),
+                      record((0, 128, 0, 1, 1)), (7,),
                       block_of(*DEEDS[0])):
             disk = disk_of(first, *BLOCKS[1:], waiting=2)
             self.assertEqual(host_of(disk).book().deeds(), [])
             self.assertEqual((disk.blocks(), disk.synced()), ([begin()], 1))
 
     def test_on_another_matchs(self):
-        for first in (begin(match=MATCH + 1), begin(seed=SEED + 1), begin(game=OTHER), record((0, 1, 1, 1)), record((0, 0, 0, 0)),
+        for first in (begin(match=MATCH + 1), begin(seed=SEED + 1), begin(game=OTHER), record((0, 1, 1, 1)),
+                      record((0, 0, 0, 0)),
                       record((0, *whole(2 ** 64 - 1) * 3))):
             for more in ((), BLOCKS[1:], [(7,)]):
                 disk = disk_of(first, *more, waiting=1)
@@ -97,7 +100,8 @@ class Made(unittest.TestCase):
         disk = Disk()
         only_named(self, lambda thing: SavedHost(MEADOW, thing, 0, Disk()), (NoSeed, {}), is_from(1, 2 ** 31 - 2))
         only_named(self, lambda thing: SavedHost(MEADOW, 1, thing, Disk()), (NoNumber, {}), is_from(0, 2 ** 32 - 1))
-        only_named(self, lambda thing: SavedHost(MEADOW, 1, 0, thing), (NoDisk, {}), lambda thing: isinstance(thing, Disk))
+        only_named(self, lambda thing: SavedHost(MEADOW, 1, 0, thing), (NoDisk, {}),
+                   lambda thing: isinstance(thing, Disk))
         for thing in (0, True, None, 2 ** 31 - 1):
             self.assertEqual(raised(SavedHost, MEADOW, thing, 0, disk), (NoSeed, {}))
         self.assertEqual(disk.blocks(), [])
@@ -149,12 +153,14 @@ class Writing(unittest.TestCase):
                 seat, tick = chance.randrange(-1, 3), chance.randrange(-1, 40)
                 call = chance.choice(("open_seat", "close_seat", "forget", "hear", "hear", "hear", "letters"))
                 inputs = tuple([chance.randrange(256) for _ in range(chance.randrange(9))])
-                letter = say(place=chance.randrange(3), seat=max(seat, 0) % 2, tick=max(tick, 0), inputs=inputs, heard=(1, 2))
+                letter = say(place=chance.randrange(3), seat=max(seat, 0) % 2, tick=max(tick, 0), inputs=inputs,
+                             heard=(1, 2))
                 argument = {"forget": tick, "hear": letter, "letters": seat}.get(call, seat)
                 outcomes = [raised(getattr(host, call), argument) for host in (one, other)]
                 self.assertEqual(outcomes[0], outcomes[1])
                 self.assertEqual(one.book().deeds(), other.book().deeds())
-                self.assertEqual((one.settled(), one.base(), one.places()), (other.settled(), other.base(), other.places()))
+                self.assertEqual((one.settled(), one.base(), one.places()),
+                                 (other.settled(), other.base(), other.places()))
                 for place in one.places():
                     self.assertEqual(one.letters(place), other.letters(place))
             self.assertEqual(one.world(), other.world())

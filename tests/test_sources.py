@@ -25,7 +25,8 @@ class Sources(unittest.TestCase):
     def test_each_statement(self):
         for statement, rows in (
             (("set", "dx", ("minus", X)), ("dx = -x",)), (("set", "s7", ("same", X, ONE)), ("s7 = x = 1",)),
-            (("make", 0, X, ONE, ("add", X, ONE)), ("make 0, x, 1, x + 1",)), (("make", 7, ONE, ONE, ONE), ("make 7, 1, 1, 1",)),
+            (("make", 0, X, ONE, ("add", X, ONE)), ("make 0, x, 1, x + 1",)),
+            (("make", 7, ONE, ONE, ONE), ("make 7, 1, 1, 1",)),
             (("push", X, num(-1), ("cell", X, ONE)), ("push x, -1, cell(x, 1)",)), (("gone",), ("gone",)),
             (("say", ("not", X)), ("say not x",)), (("if", X, (), ()), ("if x", "end")),
             (("if", X, (SET,), ()), ("if x", "  c0 = x", "end")),
@@ -44,7 +45,8 @@ class Sources(unittest.TestCase):
         program = Program({"wall": (("gone",),), "tick": (), "touch": (SET,)})
         text = lines("on tick", "end", "on touch", "  c0 = x", "end", "on wall", "  gone", "end")
         self.assertEqual(source_of(program), text)
-        self.assertEqual(read_source(lines("on wall", "gone", "end", "on touch", "c0 = x", "end", "on tick", "end")), program)
+        self.assertEqual(read_source(lines("on wall", "gone", "end", "on touch", "c0 = x", "end", "on tick", "end")),
+                         program)
         self.assertEqual(source_of(Program({})), "")
         self.assertEqual((read_source(""), read_source("\n\n ! x\n")), (Program({}), Program({})))
         self.assertEqual(source_of(Program({"touch": ()})), "on touch\nend\n")
@@ -58,8 +60,10 @@ class Sources(unittest.TestCase):
         program = Program({"tick": (("if", X, (SET,), ()), ("push", X, ONE, X))})
         for text in (
             within("if x", "c0 = x", "end", "push x,1,x"), within(" if x ", "      c0=x", "end  ", "push   x , 1 , x"),
-            lines("", "! a", "   on   tick  ", "", "  ! if x", "if x", "   ", "c0 = (x)", "!end", "end", "push (x),1,x", " end", ""),
-            within("if x", "c0 = x", "end", "push x, 1, x")[:-1], within("if x", "c0 = x", "else", "end", "push x, 1, x"),
+            lines("", "! a", "   on   tick  ", "", "  ! if x", "if x", "   ", "c0 = (x)", "!end", "end",
+                  "push (x),1,x", " end", ""),
+            within("if x", "c0 = x", "end", "push x, 1, x")[:-1],
+            within("if x", "c0 = x", "else", "end", "push x, 1, x"),
             within("if x", "c0 = x", "else", "  ! nothing", "", "end", "push x, 1, x") + "\n   ",
         ):
             self.assertEqual(read_source(text), program)
@@ -74,7 +78,8 @@ class Sources(unittest.TestCase):
             self.assertEqual(read_source(source), program)
             rows = []
             for row in source.split("\n")[:-1]:
-                rows.extend(["  ! x"] * chance.randrange(2) + [" " * chance.randrange(3) + row.strip() + " " * chance.randrange(2)])
+                rows.extend(["  ! x"] * chance.randrange(2))
+                rows.append(" " * chance.randrange(3) + row.strip() + " " * chance.randrange(2))
             changed = "\n".join(rows) + chance.choice(("", "\n", "\n\n"))
             self.assertEqual(source_of(read_source(changed)), source)
 
@@ -95,16 +100,23 @@ class Wrong(unittest.TestCase):
 
     def test_lines_that_have_none_of_the_forms(self):
         for row in (
-            "c0 x", "c0 =", "= x", "x = 1", "c4 = 1", "tick = 1", "c0 == 1", "c0 = 1, 2", "c0 = 2147483648", "c0 = (", "C0 = 1",
-            "make 0, x, x", "make 0, x, x, x, x", "make x, 1, 1, 1", "make 00, 1, 1, 1", "make -1, 1, 1, 1", "make (1), 1, 1, 1",
-            "make 0 x, x, x", "make0, x, x, x", "make 0", "make", "make 0,", "push x, x", "push x, x, x, x", "push", "push x x x",
-            "gone x", "gone()", "say", "say x, x", "sayx", "if", "while", "if x, x", "else x", "end x", "set c0 = 1", "c0 = 1 ! x",
-            "c0 = 1;", "on touch", "on", "and", "say x = ", "say 1 2", "ifx", "say not", "say " + "not " * 10 + "x", "#", "'x'",
-            "say x\ty", "mike 0, x, x, x", "make 0 = x, x, x", "c0 + 1", "c0 , 1", "c0 < 1", "say 0, x, x, x", "x 0, x, x, x",
+            "c0 x", "c0 =", "= x", "x = 1", "c4 = 1", "tick = 1", "c0 == 1", "c0 = 1, 2", "c0 = 2147483648", "c0 = (",
+            "C0 = 1",
+            "make 0, x, x", "make 0, x, x, x, x", "make x, 1, 1, 1", "make 00, 1, 1, 1", "make -1, 1, 1, 1",
+            "make (1), 1, 1, 1",
+            "make 0 x, x, x", "make0, x, x, x", "make 0", "make", "make 0,", "push x, x", "push x, x, x, x", "push",
+            "push x x x",
+            "gone x", "gone()", "say", "say x, x", "sayx", "if", "while", "if x, x", "else x", "end x", "set c0 = 1",
+            "c0 = 1 ! x",
+            "c0 = 1;", "on touch", "on", "and", "say x = ", "say 1 2", "ifx", "say not", "say " + "not " * 10 + "x",
+            "#", "'x'",
+            "say x\ty", "mike 0, x, x, x", "make 0 = x, x, x", "c0 + 1", "c0 , 1", "c0 < 1", "say 0, x, x, x",
+            "x 0, x, x, x",
         ):
             self.bad(2, within(row))
             self.bad(4, within("if x", "gone", row, "end"))
-        for row in ("on", "on tick x", "on walk", "ontick", "on(tick)", "gone", "c0 = 1", "end", "else", "if x", "On tick", "tick"):
+        for row in ("on", "on tick x", "on walk", "ontick", "on(tick)", "gone", "c0 = 1", "end", "else", "if x",
+                    "On tick", "tick"):
             self.bad(1, lines(row, "end"))
             self.bad(3, lines("on touch", "end", row, "end"))
 
@@ -120,8 +132,10 @@ class Wrong(unittest.TestCase):
         self.bad(2, lines("on tick", "end x", "walk"))
 
     def test_an_end_that_lacks(self):
-        for text, line in (("on tick", 2), ("on tick\n", 2), ("on tick\n\n", 3), ("on tick\n  ", 3), (" \non tick\nif x\nend\n", 5),
-                           (lines("on tick", "while x", "! end"), 4), (lines("on tick", "end", "on wall", "if x", "else", "end"), 7)):
+        for text, line in (("on tick", 2), ("on tick\n", 2), ("on tick\n\n", 3), ("on tick\n  ", 3),
+                           (" \non tick\nif x\nend\n", 5),
+                           (lines("on tick", "while x", "! end"), 4),
+                           (lines("on tick", "end", "on wall", "if x", "else", "end"), 7)):
             self.bad(line, text)
 
     def test_bad_programs(self):
