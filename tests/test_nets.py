@@ -342,6 +342,26 @@ class RoundTrips(unittest.TestCase):
             round_trip(net)
             self.caught_up(net)
 
+    def test_catching_up_with_saved_ones_that_are_cut_down(self):
+        chance = random.Random(192)
+        for number in range(8):
+            disks = [Disk() for _ in range(3)]
+            host = lambda: ("host", SavedHost(MEADOW, SEED, MATCH, disks[2]))
+            peer = lambda at: ("place", at, SavedPeer(MEADOW, SEED, MATCH, at, at, RULES, disks[at]))
+            net = net_with(host(), peer(0), peer(1), ("join", 2, None), ("open", 0), ("open", 1))
+            for _ in range(12):
+                round_trip(net)
+                self.caught_up(net)
+                for _ in range(6):
+                    place = chance.randrange(3)
+                    led(net, [("press", place, chance.randrange(256)), ("advance", place), ("post", place)])
+                net.deed(("bring", chance.randrange(6)))
+                # What nobody was told of is gone: the book's deeds, and the own inputs that were not said.
+                led(net, [host(), peer(chance.randrange(2))])
+            round_trip(net)
+            self.caught_up(net)
+            self.assertGreater(net.host().settled(), 9)
+
     def test_catching_up_with_a_save(self):
         for game in (MEADOW, CROWD):
             net = net_with(("join", 0, 0), ("join", 1, 1), ("open", 0), ("open", 1), game=game)
