@@ -14,14 +14,13 @@ from tests.things import is_from, only_named, raised
 TURNS = tuple(grown_rows(random.Random(281), 2, 50))
 
 
-def world_at(tick):
-    return run_of(MEADOW, first_world(MEADOW, 7), TURNS[:tick])
+WORLDS = [run_of(MEADOW, first_world(MEADOW, 7), TURNS[:tick]) for tick in range(51)]
 
 
 class Reels(unittest.TestCase):
     def check(self, reel, tick, worked, kept):
         self.assertEqual((reel.stands(), reel.worked(), reel.kept()), (tick, worked, kept))
-        self.assertEqual(reel.world(), world_at(tick))
+        self.assertEqual(reel.world(), WORLDS[tick])
 
     def test_at_first(self):
         self.check(Reel(Replay(MEADOW, 7, 10, TURNS)), 0, 0, (0,))
