@@ -176,9 +176,12 @@ class SourceReader:
 
     def turn(self):
         """Takes an else."""
-        if not self.frames or self.frames[-1].opener != "if" or self.frames[-1].second is not None:
+        if not self.frames:
             raise BadText(1)
-        self.frames[-1].second = []
+        frame = self.frames[-1]
+        if frame.opener != "if" or frame.second is not None:
+            raise BadText(1)
+        frame.second = []
 
     def end(self):
         """Takes an end."""
